@@ -1,0 +1,1 @@
+"""Who gets a card, whatever is on the table."""

@@ -1,0 +1,88 @@
+"""What the tests share: wrong arguments, plain answers by going through everything, and big panels."""
+
+from itertools import chain, combinations, permutations
+from unittest import TestCase
+
+from cardpanel.panels import Panel
+
+ABC = ["a", "b", "c"]
+
+
+def odd_objects():
+    """Objects that are no entry, no field, no family and no panel of any entries that the tests use."""
+    return [None, True, False, -1, 10 ** 30, "", "A", "a b", "a1", "abcdefghi", (), ("a",), [], [1], [["a"]], [None],
+            ["a", "a"], ["b", "a"], {}, {"a": 1}, {1: []}, {(): ()}, Panel(["zz"], [["zz"]])]
+
+
+class Case(TestCase):
+    """Tests with errors that hold the very argument."""
+
+    def raises(self, error, value, call, *passed, **named):
+        with self.assertRaises(error) as caught:
+            call(*passed, **named)
+        self.assertIs(type(caught.exception), error)
+        self.assertIs(caught.exception.value, value)
+
+    def same(self, found, expected):
+        """Equal, and of the same kinds all the way down, dictionaries in the same order, too."""
+        self.assertEqual(found, expected)
+        self.assertEqual(repr(found), repr(expected))
+
+
+def fields(entries):
+    """All fields of some entries, the short ones first."""
+    names = sorted(entries)
+    return [list(field) for field in chain.from_iterable(combinations(names, n) for n in range(1, len(names) + 1))]
+
+
+def lots(entries):
+    """All lots of some entries."""
+    return [[]] + fields(entries)
+
+
+def told_cards(rows, field):
+    """The cards of a field, by the word of the document."""
+    return sorted({min(field, key=row.index) for row in rows})
+
+
+def told_table(panel):
+    """The cards of all fields of a panel."""
+    return [told_cards(panel.rows(), field) for field in fields(panel.entries())]
+
+
+def all_rows(entries):
+    """All rows of some entries."""
+    return [list(row) for row in permutations(entries)]
+
+
+def all_panels(entries, most):
+    """All panels of some entries with unlike rows in ascending order, of so many stewards at most."""
+    rows = all_rows(entries)
+    return [Panel(entries, list(some)) for many in range(1, most + 1) for some in combinations(rows, many)]
+
+
+def some_numbers(seed):
+    """An endless row of numbers that is the same each time."""
+    state = seed
+    while True:
+        state = (state * 6364136223846793005 + 1442695040888963407) % 2 ** 64
+        yield state >> 33
+
+
+def shuffled(numbers, names):
+    """Some names in an order that the numbers tell."""
+    left, row = list(names), []
+    while left:
+        row.append(left.pop(next(numbers) % len(left)))
+    return row
+
+
+def big_names(many):
+    """Ascending names, so many."""
+    return ["n" + chr(97 + at // 26) + chr(97 + at % 26) for at in range(many)]
+
+
+def big_panel(seed, entries, stewards):
+    """A panel of so many entries and stewards."""
+    numbers, names = some_numbers(seed), big_names(entries)
+    return Panel(names, [shuffled(numbers, names) for _ in range(stewards)])

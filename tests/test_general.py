@@ -1,0 +1,263 @@
+"""[1] to [3]: the rules that hold everywhere, and that the greatest arguments are answered at once."""
+
+import inspect
+from copy import deepcopy
+from time import process_time
+from unittest import main
+
+from cardpanel import alike, errors, heads, panels
+from cardpanel.errors import (InvalidCount, InvalidEntries, InvalidField, InvalidLot, InvalidLots, InvalidPanel,
+                              UnknownEntry)
+from cardpanel.panels import Panel
+from support import Case, big_names, big_panel
+
+INTERFACE = {
+    panels: ["named(panel, at, field)", "cards(panel, field)", "who(panel, field, entry)", "ahead(panel, at, entry)",
+             "places(panel, entry)", "turned(panel)", "equal_rows(panel)", "plain(panel)"],
+    heads: ["least_lots(panel, entry)", "lots_of(panel)", "heads(panel)", "stewards_of(panel, lot, entry)",
+            "cards_by(lots, field)", "unbuilt(lots)", "are_lots(value)", "panel_of(lots)",
+            "is_panel_of(lots, value)"],
+    alike: ["within(one, other)", "alike(one, other)", "beyond(one, other)", "bad_row(one, other)",
+            "parting_field(one, other)", "is_parting_field(one, other, value)", "parting_size(one, other)",
+            "parting_pairs(one, other)"],
+}
+METHODS = ["entries(self)", "rows(self)", "__len__(self)", "with_row(self, row)", "without_row(self, at)",
+           "struck(self, lot)", "renamed(self, names)", "__eq__(self, other)", "__init__(self, entries, rows)"]
+
+
+def show():
+    return Panel(["a", "b", "c", "d"], [["a", "b", "c", "d"], ["d", "b", "a", "c"], ["a", "b", "c", "d"]])
+
+
+def late():
+    return Panel(["a", "b", "c", "d"], [["b", "a", "c", "d"], ["d", "b", "a", "c"]])
+
+
+def calls():
+    """Calls of everything that returns lists or dictionaries, each with new arguments: a function and these."""
+    family = {"a": [[]], "b": [["a"]], "c": [["a"]], "d": [["b"], ["c"]]}
+    broken = {"a": [[]], "b": [["a"]], "c": [["b"]], "d": [["b", "c"]]}
+    return [
+        (panels.cards, [show(), ["a", "b", "d"]]), (panels.who, [show(), ["a", "b"], "a"]),
+        (panels.named, [show(), 1, ["a", "b"]]), (panels.ahead, [show(), 1, "c"]), (panels.places, [show(), "c"]),
+        (panels.turned, [show()]), (panels.equal_rows, [show()]), (panels.plain, [show()]),
+        (heads.least_lots, [show(), "c"]), (heads.lots_of, [show()]), (heads.heads, [show()]),
+        (heads.stewards_of, [show(), ["a", "b", "c"], "d"]), (heads.cards_by, [family, ["b", "c", "d"]]),
+        (heads.unbuilt, [broken]), (heads.are_lots, [family]), (heads.panel_of, [heads.lots_of(show())]),
+        (heads.is_panel_of, [heads.lots_of(show()), show()]), (alike.within, [show(), late()]),
+        (alike.alike, [show(), late()]), (alike.beyond, [show(), late()]), (alike.bad_row, [show(), late()]),
+        (alike.parting_field, [show(), late()]), (alike.is_parting_field, [show(), late(), ["a", "b"]]),
+        (alike.parting_size, [show(), late()]), (alike.parting_pairs, [show(), late()]),
+    ]
+
+
+def spoil(value):
+    """Changes all lists and dictionaries in a value, however deep they are in it."""
+    inner = list(value.values()) if isinstance(value, dict) else value
+    if isinstance(value, (list, tuple, dict)):
+        for each in inner:
+            spoil(each)
+    if isinstance(value, dict):
+        value.clear()
+    if isinstance(value, list):
+        value.clear()
+        value.append("zz")
+
+
+class Interface(Case):
+    def test_functions_have_the_arguments_and_stand_in_their_files(self):
+        for module, told in INTERFACE.items():
+            for line in told:
+                function = getattr(module, line.split("(")[0])
+                self.assertEqual(function.__name__ + str(inspect.signature(function)), line)
+                self.assertEqual(function.__module__, module.__name__)
+
+    def test_methods_have_the_arguments_and_stand_in_the_class(self):
+        self.assertEqual(Panel.__module__, "cardpanel.panels")
+        for line in METHODS:
+            method = vars(Panel)[line.split("(")[0]]
+            self.assertEqual(method.__name__ + str(inspect.signature(method)), line)
+
+    def test_every_error_class_is_a_class(self):
+        self.assertEqual(len([each for each in vars(errors).values() if isinstance(each, type)]), 28)
+
+
+class SameAnswers(Case):
+    def test_equal_calls_return_equal_results(self):
+        for (function, passed), (_, again) in zip(calls(), calls()):
+            found = function(*passed)
+            self.assertEqual(function(*again), found)
+            self.assertEqual(function(*passed), found)
+            if isinstance(found, dict):
+                self.assertEqual(list(function(*again)), list(found))
+
+    def test_arguments_are_not_changed(self):
+        for (function, passed), (_, again) in zip(calls(), calls()):
+            function(*passed)
+            self.assertEqual(passed, again)
+
+    def test_returned_lists_may_be_changed(self):
+        for function, passed in calls():
+            found = function(*passed)
+            kept = deepcopy(found)
+            spoil(found)
+            self.assertEqual(function(*passed), kept)
+            for method in (Panel.rows, Panel.entries):
+                spoil(method(passed[0]) if isinstance(passed[0], Panel) else [])
+            self.assertEqual(function(*passed), kept)
+
+    def test_passed_lists_may_be_changed(self):
+        for function, passed in calls():
+            found = function(*passed)
+            kept = deepcopy(found)
+            spoil([each for each in passed if not isinstance(each, Panel)])
+            self.assertEqual(found, kept)
+
+    def test_lists_passed_to_panels_may_be_changed(self):
+        entries, rows = ["b", "a"], [["b", "a"], ["a", "b"]]
+        panel = Panel(entries, rows)
+        spoil(rows)
+        spoil(entries)
+        self.assertEqual(panel, Panel(["a", "b"], [["b", "a"], ["a", "b"]]))
+        row, names = ["a", "b"], {"a": "c", "b": "d"}
+        more, other = panel.with_row(row), panel.renamed(names)
+        spoil(row)
+        spoil(names)
+        self.same([more.rows()[2], other.rows()], [["a", "b"], [["d", "c"], ["c", "d"]]])
+
+    def test_panels_made_of_panels_are_independent(self):
+        panel = show()
+        for made in [panel.with_row(["d", "c", "b", "a"]), panel.without_row(2), panel.struck([]), panels.plain(panel),
+                     panels.turned(panel)]:
+            kept = made.rows()
+            spoil(made.rows())
+            spoil(panel.rows())
+            self.assertEqual(made.rows(), kept)
+            self.assertEqual(panel, show())
+
+    def test_results_are_new_objects_each_time(self):
+        panel = show()
+        self.assertIsNot(panel.rows(), panel.rows())
+        self.assertIsNot(panel.rows()[0], panel.rows()[0])
+        self.assertIsNot(panel.entries(), panel.entries())
+        self.assertIsNot(heads.lots_of(panel), heads.lots_of(panel))
+        self.assertIsNot(heads.least_lots(panel, "c")[0], heads.least_lots(panel, "c")[0])
+        family = {"a": [[]], "b": [["a"]], "c": [["b"]]}
+        self.assertIsNot(heads.unbuilt(family)[0][0], family["c"][0])
+
+
+class FirstWrongArgument(Case):
+    def test_in_the_order_of_the_parameters(self):
+        panel, bad = show(), ["no panel"]
+        self.raises(InvalidPanel, bad, panels.named, bad, -1, [])
+        self.raises(InvalidCount, True, panels.named, panel, True, [])
+        self.raises(InvalidPanel, bad, panels.who, bad, [], 5)
+        self.raises(InvalidField, bad, panels.who, panel, bad, 5)
+        self.raises(UnknownEntry, bad, panels.who, panel, ["a"], bad)
+        self.raises(InvalidCount, 3, panels.ahead, panel, 3, "x")
+        self.raises(InvalidLot, bad, heads.stewards_of, panel, bad, "x")
+        self.raises(InvalidLots, bad, heads.cards_by, bad, [])
+        self.raises(InvalidField, bad, heads.cards_by, {"a": [[]]}, bad)
+        self.raises(InvalidPanel, bad, alike.within, bad, 7)
+        self.raises(InvalidEntries, bad, Panel, bad, bad)
+
+    def test_also_when_passed_by_name(self):
+        self.raises(InvalidCount, -1, panels.named, field=[], at=-1, panel=show())
+        self.raises(InvalidLot, None, heads.stewards_of, entry=None, lot=None, panel=show())
+
+    def test_tuples_are_no_lists_and_lists_no_tuples(self):
+        self.raises(InvalidField, ("a",), panels.cards, show(), ("a",))
+        self.raises(InvalidLot, ("a",), show().struck, ("a",))
+        self.assertFalse(heads.are_lots({"a": ([],)}))
+        self.assertFalse(alike.is_parting_field(show(), late(), ("a", "b")))
+        self.assertTrue(alike.is_parting_field(show(), late(), ["a", "b"]))
+
+    def test_true_is_no_position(self):
+        self.raises(InvalidCount, True, panels.named, show(), True, ["a"])
+        self.raises(InvalidCount, False, panels.ahead, show(), False, "a")
+        self.raises(InvalidCount, True, show().without_row, True)
+        self.same(panels.named(show(), 1, ["a", "b"]), "b")
+
+
+class Limits(Case):
+    """Panels of 40 entries, 8 stewards and some 260 heads, and families of 320 lots."""
+
+    def at_once(self, call, *passed):
+        begun = process_time()
+        found = call(*passed)
+        # Going through the fields of 40 entries would need 2 ** 40 steps, so this tells even on a slow machine.
+        self.assertLess(process_time() - begun, 10)
+        return found
+
+    def wide_panel(self, turn=1):
+        """A panel in which each entry but the first 8 of the rows has 8 least ahead lots."""
+        names = big_names(40)
+        first, rest = names[:8], names[8:]
+        rows = [[first[at]] + rest[::turn] + first[:at] + first[at + 1:] for at in range(8)]
+        return Panel(names, rows)
+
+    def wide_family(self):
+        """A family of 40 entries and 320 lots, one of which is not built for each of the last 24 entries."""
+        names = big_names(40)
+        pairs = sorted([low, high] for at, low in enumerate(names[:8]) for high in names[at + 1:8])
+        family = {name: [[]] for name in names[:8]}
+        for at, name in enumerate(names[8:16]):
+            family[name] = pairs[at:at + 9]
+        for name in names[16:]:
+            family[name] = sorted(pairs[:9] + [[names[8], names[9]]])
+        return family
+
+    def test_heads_of_a_wide_panel(self):
+        panel = self.wide_panel()
+        found = self.at_once(heads.heads, panel)
+        self.assertGreater(len(found), 250)
+        for lot, entry in found[::9]:
+            self.assertIn(entry, panels.cards(panel, [name for name in panel.entries() if name not in lot]))
+
+    def test_wide_panels_against_each_other(self):
+        one, other = self.wide_panel(), self.wide_panel(-1)
+        more = one.with_row(other.rows()[3])
+        self.same([self.at_once(alike.within, one, more), self.at_once(alike.within, more, one)], [True, False])
+        self.same([self.at_once(alike.alike, one, one), self.at_once(alike.alike, one, other)], [True, False])
+        for passed in [(one, other), (one, more), (more, other)]:
+            size = self.at_once(alike.parting_size, *passed)
+            field = self.at_once(alike.parting_field, *passed)
+            self.assertTrue(alike.is_parting_field(*passed, field))
+            self.assertLessEqual(size, len(field))
+            pairs = self.at_once(alike.parting_pairs, *passed)
+            self.assertEqual(size == 2, pairs != [])
+        self.assertIsNone(self.at_once(alike.parting_size, one, Panel(one.entries(), one.rows()[::-1])))
+
+    def test_random_panels(self):
+        for seed in range(4):
+            one, other = big_panel(seed, 40, 8), big_panel(seed + 90, 40, 8)
+            self.same(self.at_once(alike.parting_size, one, other), 2)
+            self.assertEqual(self.at_once(alike.beyond, one, other), sorted(set(
+                entry for lot, entry in heads.heads(one)
+                if entry not in panels.cards(other, [name for name in one.entries() if name not in lot]))))
+
+    def test_wide_families(self):
+        family = self.wide_family()
+        names = sorted(family)
+        self.assertEqual(sum(len(each) for each in family.values()), 320)
+        self.same(self.at_once(heads.cards_by, family, names), names[:8])
+        self.same(self.at_once(heads.unbuilt, family), [([names[8], names[9]], name) for name in names[16:]])
+        self.same(self.at_once(heads.are_lots, family), False)
+        self.same(self.at_once(heads.are_lots, heads.lots_of(self.wide_panel())), True)
+
+    def test_long_chain_taken_from_the_last_entry_on(self):
+        names = big_names(40)
+        family = {name: [names[at + 1:]] for at, name in enumerate(names)}
+        self.same(self.at_once(heads.unbuilt, family), [])
+        self.assertEqual(self.at_once(heads.panel_of, family), Panel(names, [names[::-1]]))
+
+    def test_panels_that_functions_return_may_be_passed_again(self):
+        family = heads.lots_of(big_panel(9, 20, 5))
+        made = heads.panel_of(family)
+        self.same(alike.parting_size(made, big_panel(9, 20, 5)), None)
+        self.same(heads.is_panel_of(heads.lots_of(made), panels.plain(made)), True)
+        self.same(heads.is_panel_of(family, heads.panel_of(heads.lots_of(made))), True)
+
+
+if __name__ == "__main__":
+    main()
