@@ -5,6 +5,8 @@ from cardpanel.basics import holds_one
 from cardpanel.basics import is_field
 from cardpanel.heads import least_ahead
 from cardpanel.heads import least_lots
+from cardpanel.meeting import lots_met
+from cardpanel.meeting import shortest_meeting
 from cardpanel.panels import ahead
 from cardpanel.panels import ahead_masks
 from cardpanel.panels import cards
@@ -67,39 +69,6 @@ def is_parting_field(one, other, value):
     return is_field(one.entries(), value) and cards(one, value) != cards(other, value)
 
 
-def lots_met(bits, masks):
-    """Returns, for each entry, a number whose bit k tells whether it is in the k-th of some lots."""
-    return [sum([1 << k for k, mask in enumerate(masks) if mask & bits[name]]) for name in bits]
-
-
-def fewest_meeting(choices, many):
-    """Returns how few of some choices meet all of so many lots together, None if they do not.
-
-    A choice is a number whose bits stand for the lots that it meets.
-    """
-    every, reached = (1 << many) - 1, 0
-    for choice in choices:
-        reached = reached | choice
-    if reached != every:
-        return None
-    size, stages = 0, [0]
-    while every not in stages:
-        size += 1
-        stages = one_more(stages, choices)
-    return size
-
-
-def one_more(stages, choices):
-    """Returns which lots may be met with one choice more, where the first lot left is met next."""
-    found = {}
-    for met in stages:
-        first_left = ~met & (met + 1)
-        for choice in choices:
-            if choice & first_left:
-                found[met | choice] = True
-    return list(found)
-
-
 def sizes_beyond(one, other):
     """Returns the least sizes of fields that show least ahead lots of the one not to be the other's."""
     bits = bits_of(one.entries())
@@ -108,10 +77,10 @@ def sizes_beyond(one, other):
     for entry in bits:
         met = lots_met(bits, theirs[entry])
         for mask in ours[entry]:
-            outside = [met[at] for at, name in enumerate(bits) if not bits[name] & mask]
-            size = fewest_meeting(sorted(set(outside)), len(theirs[entry]))
-            if size is not None:
-                sizes.append(size + 1)
+            outside = {met[name]: name for name in bits if not bits[name] & mask}
+            chosen = shortest_meeting(outside, len(theirs[entry]))
+            if chosen is not None:
+                sizes.append(len(chosen) + 1)
     return sizes
 
 

@@ -54,9 +54,14 @@ def is_field(entries, value):
 
 def is_row(entries, value):
     """Returns whether any object is a list that has each entry once."""
-    if not isinstance(value, list) or not all([name in entries for name in value]):
+    if not isinstance(value, list) or not all([isinstance(name, str) for name in value]):
         return False
     return sorted(value) == entries
+
+
+def are_rows(entries, value):
+    """Returns whether any object is a list, perhaps empty, of rows of all entries."""
+    return isinstance(value, list) and all([is_row(entries, row) for row in value])
 
 
 def check_entries(entries):
@@ -73,7 +78,7 @@ def check_row(entries, row):
 
 def check_rows(entries, rows):
     """Raises InvalidRows unless it is passed a list, not empty, of rows of all entries."""
-    if not isinstance(rows, list) or not rows or not all([is_row(entries, row) for row in rows]):
+    if not are_rows(entries, rows) or not rows:
         raise InvalidRows(rows)
 
 
@@ -114,6 +119,30 @@ def mask_of(bits, lot):
 def lot_of(bits, mask):
     """Returns the lot that a number stands for."""
     return [name for name in bits if bits[name] & mask]
+
+
+def bits_in(mask):
+    """Returns the ascending list of the bits of a number."""
+    found = []
+    while mask:
+        lowest = mask & -mask
+        found.append(lowest)
+        mask = mask ^ lowest
+    return found
+
+
+def size_of(mask):
+    """Returns how many entries a lot has, as a number."""
+    digits = f"{mask:b}"
+    return digits.count("1")
+
+
+def united(masks):
+    """Returns the lot of all entries of some lots, all as numbers."""
+    found = 0
+    for mask in masks:
+        found = found | mask
+    return found
 
 
 def masks_ahead(bits, row):

@@ -96,6 +96,11 @@ def first_there(row, field):
     return None
 
 
+def cards_on(rows, field):
+    """Returns the ascending list of the entries of a field that some rows name."""
+    return sorted(set([first_there(row, field) for row in rows]))
+
+
 def named(panel, at, field):
     """Returns the entry of a field that the steward at a position names."""
     check_panel(panel)
@@ -108,7 +113,7 @@ def cards(panel, field):
     """Returns the ascending list of the entries that get a card on a field."""
     check_panel(panel)
     check_field(panel.entries(), field)
-    return sorted(set([first_there(row, field) for row in panel.rows()]))
+    return cards_on(panel.rows(), field)
 
 
 def who(panel, field, entry):

@@ -1,5 +1,6 @@
 """What the tests share: wrong arguments, plain answers by going through everything, and big panels."""
 
+import sys
 from itertools import chain, combinations, permutations
 from unittest import TestCase
 
@@ -23,10 +24,35 @@ class Case(TestCase):
         self.assertIs(type(caught.exception), error)
         self.assertIs(caught.exception.value, value)
 
+    def at_once(self, call, *passed):
+        """What a call returns, if it does so within some two million lines of code.
+
+        Going through the fields of 40 entries takes 2 ** 40. A count is the same on a busy machine, unlike a clock.
+        """
+        return within_lines(2 * 10 ** 6, call, *passed)
+
     def same(self, found, expected):
         """Equal, and of the same kinds all the way down, dictionaries in the same order, too."""
         self.assertEqual(found, expected)
         self.assertEqual(repr(found), repr(expected))
+
+
+def within_lines(most, call, *passed):
+    """What a call returns, if it carries out no more than so many lines of code; each turn of a loop counts."""
+    counted, before = 0, sys.gettrace()
+
+    def trace(frame, event, passed_on):
+        nonlocal counted
+        counted += event == "line"
+        if counted > most:
+            raise AssertionError(f"more than {most} lines of code")
+        return trace
+
+    sys.settrace(trace)
+    try:
+        return call(*passed)
+    finally:
+        sys.settrace(before)
 
 
 def fields(entries):

@@ -2,12 +2,11 @@
 
 import inspect
 from copy import deepcopy
-from time import process_time
 from unittest import main
 
-from cardpanel import alike, errors, heads, panels
+from cardpanel import alike, errors, fewest, heads, heats, panels, spans, tables
 from cardpanel.errors import (InvalidCount, InvalidEntries, InvalidField, InvalidLot, InvalidLots, InvalidPanel,
-                              UnknownEntry)
+                              InvalidRows, InvalidTable, InvalidTree, UnknownEntry)
 from cardpanel.panels import Panel
 from support import Case, big_names, big_panel
 
@@ -20,6 +19,18 @@ INTERFACE = {
     alike: ["within(one, other)", "alike(one, other)", "beyond(one, other)", "bad_row(one, other)",
             "parting_field(one, other)", "is_parting_field(one, other, value)", "parting_size(one, other)",
             "parting_pairs(one, other)"],
+    tables: ["table_of(panel)", "is_table(entries, value)", "changed(table, field, cards)", "flaw(table)",
+             "is_flaw(table, value)", "panel_for(table)", "odd_fields(table)", "is_odd_fields(table, value)"],
+    heats: ["field_of(panel, tree)", "heats(panel, tree)", "each_heat(panel, tree)", "widest(panel, tree)",
+            "finals(first, second, field)", "may_sift(first, second)", "bad_field(first, second)",
+            "is_bad_field(first, second, value)", "finals_table(first, second)"],
+    spans: ["hull(panel, lot)", "can_be_cards(panel, lot)", "span_of(panel, field)", "fields_with(panel, lot)",
+            "field_at(panel, lot, number)", "field_number(panel, field)", "lots_of_cards(panel)", "tally(panel)",
+            "most_cards(panel)", "is_most_cards(panel, value)"],
+    fewest: ["fewest_rows(panel)", "is_fewest(panel, value)", "apart_heads(panel)", "is_apart(panel, value)",
+             "chains(panel)", "are_chains(panel, value)", "chain_row(panel, chain)", "missing_heads(panel, kept)",
+             "rows_more(panel, kept)", "is_rows_more(panel, kept, value)", "own_heads(panel, at)", "worth(panel, at)",
+             "needless_stewards(panel)", "lean_stewards(panel)", "ladder(low, high)", "is_ladder(low, high, value)"],
 }
 METHODS = ["entries(self)", "rows(self)", "__len__(self)", "with_row(self, row)", "without_row(self, at)",
            "struck(self, lot)", "renamed(self, names)", "__eq__(self, other)", "__init__(self, entries, rows)"]
@@ -48,6 +59,48 @@ def calls():
         (alike.alike, [show(), late()]), (alike.beyond, [show(), late()]), (alike.bad_row, [show(), late()]),
         (alike.parting_field, [show(), late()]), (alike.is_parting_field, [show(), late(), ["a", "b"]]),
         (alike.parting_size, [show(), late()]), (alike.parting_pairs, [show(), late()]),
+    ] + calls_of_tables_and_heats() + calls_of_spans_and_fewest()
+
+
+def bent():
+    return tables.changed(tables.table_of(show()), ["a", "b", "d"], ["b"])
+
+
+def tree():
+    return [["a", ["b"]], "b", ["c", ["d", "c"]]]
+
+
+def calls_of_tables_and_heats():
+    return [
+        (tables.table_of, [show()]), (tables.is_table, [["b", "a", "c", "d"], tables.table_of(show())]),
+        (tables.changed, [tables.table_of(show()), ["a", "b"], ["b"]]), (tables.flaw, [bent()]),
+        (tables.is_flaw, [bent(), tables.flaw(bent())]), (tables.panel_for, [tables.table_of(show())]),
+        (tables.odd_fields, [bent()]), (tables.is_odd_fields, [bent(), tables.odd_fields(bent())]),
+        (heats.field_of, [show(), tree()]), (heats.heats, [show(), tree()]), (heats.each_heat, [show(), tree()]),
+        (heats.widest, [show(), tree()]), (heats.finals, [show(), late(), ["a", "b", "d"]]),
+        (heats.may_sift, [show(), late()]), (heats.bad_field, [show(), late()]),
+        (heats.is_bad_field, [show(), late(), ["a", "b", "d"]]), (heats.finals_table, [show(), late()]),
+    ]
+
+
+def calls_of_spans_and_fewest():
+    high = show().with_row(["d", "c", "b", "a"])
+    return [
+        (spans.hull, [show(), ["a"]]), (spans.can_be_cards, [show(), ["a", "d"]]),
+        (spans.span_of, [show(), ["a", "c"]]), (spans.fields_with, [show(), ["a"]]),
+        (spans.field_at, [show(), ["a"], 1]),
+        (spans.field_number, [show(), ["a", "c"]]), (spans.lots_of_cards, [show()]), (spans.tally, [show()]),
+        (spans.most_cards, [show()]), (spans.is_most_cards, [show(), ["a", "d"]]),
+        (fewest.fewest_rows, [show()]), (fewest.is_fewest, [show(), fewest.fewest_rows(show())]),
+        (fewest.apart_heads, [show()]), (fewest.is_apart, [show(), fewest.apart_heads(show())]),
+        (fewest.chains, [show()]), (fewest.are_chains, [show(), fewest.chains(show())]),
+        (fewest.chain_row, [show(), fewest.chains(show())[1]]),
+        (fewest.missing_heads, [show(), [["a", "b", "c", "d"]]]),
+        (fewest.rows_more, [show(), [["a", "b", "c", "d"]]]),
+        (fewest.is_rows_more, [show(), [["a", "b", "c", "d"]], [["d", "b", "a", "c"]]]),
+        (fewest.own_heads, [show(), 1]), (fewest.worth, [show(), 1]), (fewest.needless_stewards, [show()]),
+        (fewest.lean_stewards, [show()]), (fewest.ladder, [show(), high]),
+        (fewest.is_ladder, [show(), high, fewest.ladder(show(), high)]),
     ]
 
 
@@ -161,6 +214,22 @@ class FirstWrongArgument(Case):
         self.raises(InvalidPanel, bad, alike.within, bad, 7)
         self.raises(InvalidEntries, bad, Panel, bad, bad)
 
+    def test_in_the_order_of_the_parameters_in_greater_things(self):
+        panel, bad, table = show(), ["no panel"], tables.table_of(show())
+        self.raises(InvalidTable, bad, tables.changed, bad, bad, bad)
+        self.raises(InvalidField, bad, tables.changed, table, bad, bad)
+        self.raises(InvalidLot, bad, tables.changed, table, ["a"], bad)
+        self.raises(InvalidPanel, bad, heats.heats, bad, None)
+        self.raises(InvalidTree, bad, heats.heats, panel, bad)
+        self.raises(InvalidPanel, bad, heats.finals, panel, bad, bad)
+        self.raises(InvalidField, bad, heats.finals, panel, panel, bad)
+        self.raises(InvalidPanel, bad, spans.field_at, bad, bad, bad)
+        self.raises(InvalidLot, bad, spans.field_at, panel, bad, bad)
+        self.raises(InvalidCount, bad, spans.field_at, panel, ["a"], bad)
+        self.raises(InvalidPanel, bad, fewest.is_rows_more, bad, bad, bad)
+        self.raises(InvalidRows, bad, fewest.is_rows_more, panel, bad, bad)
+        self.raises(InvalidPanel, bad, fewest.ladder, bad, bad)
+
     def test_also_when_passed_by_name(self):
         self.raises(InvalidCount, -1, panels.named, field=[], at=-1, panel=show())
         self.raises(InvalidLot, None, heads.stewards_of, entry=None, lot=None, panel=show())
@@ -181,13 +250,6 @@ class FirstWrongArgument(Case):
 
 class Limits(Case):
     """Panels of 40 entries, 8 stewards and some 260 heads, and families of 320 lots."""
-
-    def at_once(self, call, *passed):
-        begun = process_time()
-        found = call(*passed)
-        # Going through the fields of 40 entries would need 2 ** 40 steps, so this tells even on a slow machine.
-        self.assertLess(process_time() - begun, 10)
-        return found
 
     def wide_panel(self, turn=1):
         """A panel in which each entry but the first 8 of the rows has 8 least ahead lots."""
