@@ -4,9 +4,10 @@ import inspect
 from copy import deepcopy
 from unittest import main
 
-from cardpanel import alike, errors, fewest, heads, heats, panels, spans, tables
-from cardpanel.errors import (InvalidCount, InvalidEntries, InvalidField, InvalidLot, InvalidLots, InvalidPanel,
-                              InvalidRows, InvalidTable, InvalidTree, UnknownEntry)
+from cardpanel import (alike, errors, fewest, heads, heats, keepoffs, leaving, panels, spans, tables, takings,
+                       together)
+from cardpanel.errors import (InvalidCount, InvalidEntries, InvalidEntry, InvalidField, InvalidLot, InvalidLots,
+                              InvalidPanel, InvalidRow, InvalidRows, InvalidTable, InvalidTree, UnknownEntry)
 from cardpanel.panels import Panel
 from support import Case, big_names, big_panel
 
@@ -31,6 +32,21 @@ INTERFACE = {
              "chains(panel)", "are_chains(panel, value)", "chain_row(panel, chain)", "missing_heads(panel, kept)",
              "rows_more(panel, kept)", "is_rows_more(panel, kept, value)", "own_heads(panel, at)", "worth(panel, at)",
              "needless_stewards(panel)", "lean_stewards(panel)", "ladder(low, high)", "is_ladder(low, high, value)"],
+    keepoffs: ["keeps_off(panel, entry, lot)", "for_good(panel)", "least_keepoffs(panel, entry)",
+               "least_meeting(lots)", "why_kept_off(panel, entry, field)",
+               "is_why_kept_off(panel, entry, field, value)", "shortest_keepoff(panel, entry)",
+               "is_shortest_keepoff(panel, entry, value)", "surely_named(panel, entry, many)"],
+    leaving: ["comes_in(panel, gone)", "field_where(panel, gone, entry)", "is_field_where(panel, gone, entry, value)",
+              "risers(panel, field, gone)", "fallers(panel, field, come)", "ways_in(panel, field, entry)",
+              "fewest_out(panel, field, entry)", "layers(panel, field)", "layer_of(panel, field, entry)",
+              "idle(panel)"],
+    takings: ["next_takings(panel, lot)", "taking_of(panel, lot)", "is_takeable(panel, value)",
+              "is_taking(panel, value)", "count_takings(panel)", "count_takeable(panel)", "taking_at(panel, number)",
+              "taking_number(panel, row)", "steps_between(panel, one, other)", "are_steps(panel, one, other, value)",
+              "places_of(panel, entry)", "taking_with(panel, entry, place)", "held_by(panel, entry)"],
+    together: ["joint(one, other)", "greatest_within(one, other)", "stuck_field(one, other)",
+               "is_stuck_field(one, other, value)", "side_by_side(one, other)", "behind(one, other)",
+               "instead(panel, entry, inner)", "as_one(panel, lot, entry)", "is_as_one(panel, lot, entry, value)"],
 }
 METHODS = ["entries(self)", "rows(self)", "__len__(self)", "with_row(self, row)", "without_row(self, at)",
            "struck(self, lot)", "renamed(self, names)", "__eq__(self, other)", "__init__(self, entries, rows)"]
@@ -59,7 +75,40 @@ def calls():
         (alike.alike, [show(), late()]), (alike.beyond, [show(), late()]), (alike.bad_row, [show(), late()]),
         (alike.parting_field, [show(), late()]), (alike.is_parting_field, [show(), late(), ["a", "b"]]),
         (alike.parting_size, [show(), late()]), (alike.parting_pairs, [show(), late()]),
-    ] + calls_of_tables_and_heats() + calls_of_spans_and_fewest()
+    ] + calls_of_tables_and_heats() + calls_of_spans_and_fewest() + calls_of_keepoffs_and_leaving() + [
+        (takings.next_takings, [show(), ["a"]]), (takings.taking_of, [show(), ["a", "d"]]),
+        (takings.is_takeable, [show(), ["a"]]), (takings.is_taking, [show(), ["d", "a", "b", "c"]]),
+        (takings.count_takings, [show()]), (takings.count_takeable, [show()]), (takings.taking_at, [show(), 2]),
+        (takings.taking_number, [show(), ["d", "a", "b", "c"]]),
+        (takings.steps_between, [show(), ["a", "b", "c", "d"], ["d", "a", "b", "c"]]),
+        (takings.are_steps, [show(), ["a", "b", "c", "d"], ["a", "b", "c", "d"], [["a", "b", "c", "d"]]]),
+        (takings.places_of, [show(), "c"]), (takings.taking_with, [show(), "b", 2]), (takings.held_by, [show(), "a"]),
+        (together.joint, [show(), late()]), (together.greatest_within, [show(), show().without_row(0)]),
+        (together.stuck_field, [show(), Panel(["a", "b", "c", "d"], [["c", "b", "d", "a"]])]),
+        (together.is_stuck_field, [show(), late(), ["a", "b"]]), (together.side_by_side, [show(), inn()]),
+        (together.behind, [show(), inn()]), (together.instead, [show(), "b", inn()]),
+        (together.as_one, [together.instead(show(), "b", inn()), ["x", "y"], "b"]),
+        (together.is_as_one, [together.instead(show(), "b", inn()), ["x", "y"], "b", (show(), inn())]),
+    ]
+
+
+def inn():
+    return Panel(["x", "y"], [["y", "x"], ["x", "y"]])
+
+
+def calls_of_keepoffs_and_leaving():
+    field = ["a", "b", "c"]
+    return [
+        (keepoffs.keeps_off, [show(), "c", ["a"]]), (keepoffs.for_good, [show()]),
+        (keepoffs.least_keepoffs, [show(), "c"]), (keepoffs.least_meeting, [[["b", "c"], ["a", "b"]]]),
+        (keepoffs.why_kept_off, [show(), "c", field[:]]), (keepoffs.is_why_kept_off, [show(), "c", field[:], ["a"]]),
+        (keepoffs.shortest_keepoff, [show(), "c"]), (keepoffs.is_shortest_keepoff, [show(), "c", ["b"]]),
+        (keepoffs.surely_named, [show(), "c", 2]), (leaving.comes_in, [show(), "a"]),
+        (leaving.field_where, [show(), "a", "c"]), (leaving.is_field_where, [show(), "a", "c", ["a", "c"]]),
+        (leaving.risers, [show(), field[:], "a"]), (leaving.fallers, [show(), field[:], "d"]),
+        (leaving.ways_in, [show(), field[:], "c"]), (leaving.fewest_out, [show(), field[:], "c"]),
+        (leaving.layers, [show(), field[:]]), (leaving.layer_of, [show(), field[:], "c"]), (leaving.idle, [show()]),
+    ]
 
 
 def bent():
@@ -229,6 +278,20 @@ class FirstWrongArgument(Case):
         self.raises(InvalidPanel, bad, fewest.is_rows_more, bad, bad, bad)
         self.raises(InvalidRows, bad, fewest.is_rows_more, panel, bad, bad)
         self.raises(InvalidPanel, bad, fewest.ladder, bad, bad)
+
+    def test_in_the_order_of_the_parameters_of_takings_and_panels_together(self):
+        panel, bad = show(), ["no panel"]
+        self.raises(InvalidPanel, bad, keepoffs.is_why_kept_off, bad, bad, bad, bad)
+        self.raises(UnknownEntry, bad, keepoffs.is_why_kept_off, panel, bad, bad, bad)
+        self.raises(InvalidField, bad, keepoffs.is_why_kept_off, panel, "a", bad, bad)
+        self.raises(InvalidField, bad, leaving.risers, panel, bad, bad)
+        self.raises(UnknownEntry, bad, leaving.risers, panel, ["a"], bad)
+        self.raises(InvalidRow, bad, takings.are_steps, panel, bad, bad, bad)
+        self.raises(UnknownEntry, bad, takings.taking_with, panel, bad, bad)
+        self.raises(InvalidCount, bad, takings.taking_with, panel, "a", bad)
+        self.raises(UnknownEntry, bad, together.instead, panel, bad, bad)
+        self.raises(InvalidLot, bad, together.is_as_one, panel, bad, bad, bad)
+        self.raises(InvalidEntry, bad, together.is_as_one, panel, ["a"], bad, bad)
 
     def test_also_when_passed_by_name(self):
         self.raises(InvalidCount, -1, panels.named, field=[], at=-1, panel=show())
