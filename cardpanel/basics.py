@@ -161,7 +161,8 @@ def is_within(lesser, mask):
 
 def holds_one(mask, masks):
     """Returns whether a lot holds one of some lots, all as numbers."""
-    return any([is_within(lesser, mask) for lesser in masks])
+    outside = ~mask
+    return any([not lesser & outside for lesser in masks])
 
 
 def least_masks(masks):

@@ -6,12 +6,12 @@ from cardpanel.basics import check_field
 from cardpanel.basics import check_lot
 from cardpanel.basics import holds_one
 from cardpanel.basics import is_ascending
-from cardpanel.basics import is_lot
 from cardpanel.basics import is_name
 from cardpanel.basics import least_masks
 from cardpanel.basics import lot_of
 from cardpanel.basics import mask_of
 from cardpanel.basics import masks_ahead
+from cardpanel.basics import united
 from cardpanel.errors import InvalidLots
 from cardpanel.panels import Panel
 from cardpanel.panels import ahead
@@ -63,41 +63,62 @@ def stewards_of(panel, lot, entry):
     return [at for at in range(len(panel)) if ahead(panel, at, entry) == lot]
 
 
-def is_family(value):
-    """Returns whether any object is a family of its keys, one at least, all of them names."""
+def number_of_lot(bits, value):
+    """Returns the number of an ascending list of entries that have bits, None for any other object."""
+    if not isinstance(value, list):
+        return None
+    mask = 0
+    for name in value:
+        bit = bits.get(name, 0) if isinstance(name, str) else 0
+        # The bits ascend as the entries do, so one that is to come is greater than all that came together.
+        if bit <= mask:
+            return None
+        mask = mask | bit
+    return mask
+
+
+def numbers_of_lots(bits, entry, value):
+    """Returns the numbers of what a family may lead an entry to, None for any other object."""
+    if not isinstance(value, list) or not value:
+        return None
+    masks = [number_of_lot(bits, lot) for lot in value]
+    if None in masks or united(masks) & bits[entry]:
+        return None
+    if not is_ascending(value) or len(least_masks(masks)) < len(masks):
+        return None
+    return masks
+
+
+def family_masks(value):
+    """Returns a dictionary from the entries of a family, ascending, to their lots as numbers, in their order.
+
+    Returns None for anything but a family of its keys, one at least, all of them names.
+    """
     if not isinstance(value, dict) or not value or not all([is_name(name) for name in value]):
-        return False
-    return all([are_family_lots(sorted(value), name, value[name]) for name in value])
+        return None
+    bits = bits_of(sorted(value))
+    found = {}
+    for name in bits:
+        masks = numbers_of_lots(bits, name, value[name])
+        if masks is None:
+            return None
+        found[name] = masks
+    return found
 
 
-def are_family_lots(entries, entry, value):
-    """Returns whether any object is what a family of entries may lead one of them to."""
-    others = [name for name in entries if name != entry]
-    if not isinstance(value, list) or not value or not all([is_lot(others, lot) for lot in value]):
-        return False
-    bits = bits_of(others)
-    masks = [mask_of(bits, lot) for lot in value]
-    return is_ascending(value) and len(least_masks(masks)) == len(masks)
-
-
-def check_family(lots):
-    """Raises InvalidLots unless it is passed a family of its keys."""
-    if not is_family(lots):
+def checked_masks(lots):
+    """Returns the lots of a family as numbers, as `family_masks` does; raises InvalidLots where it returns None."""
+    masks = family_masks(lots)
+    if masks is None:
         raise InvalidLots(lots)
-
-
-def family_masks(lots):
-    """Returns a dictionary from the entries of a family, ascending, to their lots as numbers."""
-    bits = bits_of(sorted(lots))
-    return {name: [mask_of(bits, lot) for lot in lots[name]] for name in bits}
+    return masks
 
 
 def cards_by(lots, field):
     """Returns the ascending list of the entries of a field that have a lot without any entry of it."""
-    check_family(lots)
-    check_field(sorted(lots), field)
-    bits = bits_of(sorted(lots))
-    there, masks = mask_of(bits, field), family_masks(lots)
+    masks = checked_masks(lots)
+    check_field(list(masks), field)
+    there = mask_of(bits_of(list(masks)), field)
     return [name for name in field if any([not mask & there for mask in masks[name]])]
 
 
@@ -117,27 +138,58 @@ def taken_in_turn(masks, taken, names):
     return row, taken
 
 
-def unbuilt_in(lots):
-    """Returns the ascending list of the tuples of a lot of a family that is not built and its entry."""
-    masks = family_masks(lots)
-    return [(lot, name) for lot, name in heads_in(lots) if len(taken_in_turn(masks, 0, lot)[0]) < len(lot)]
+def owners_of(masks):
+    """Returns a dictionary from the lots of a family, ascending, to the bits of their entries, all as numbers."""
+    bits = bits_of(list(masks))
+    found = {lot: [] for lot in sorted(set([lot for lots in list(masks.values()) for lot in lots]))}
+    for name, lots in masks.items():
+        for lot in lots:
+            found[lot].append(bits[name])
+    return found
+
+
+def built_lots(masks):
+    """Returns a dictionary that has the built lots of a family as keys, all as numbers."""
+    bits, built, steps = bits_of(list(masks)), {}, []
+    # A lot within another one has the lesser number, so it comes first here. Each built lot that is in this one with
+    # its entry can be taken, entry and all, at once; just what is left then has to be looked at one by one.
+    for lot, owners in owners_of(masks).items():
+        outside = ~lot
+        reached = united([step for step in steps if not step & outside])
+        if reached != lot:
+            _, reached = taken_in_turn(masks, reached, lot_of(bits, lot & ~reached))
+        if reached == lot:
+            built[lot] = True
+            steps = steps + [lot | bit for bit in owners]
+    return built
 
 
 def unbuilt(lots):
     """Returns the ascending list of the tuples of a lot that is not built and its entry."""
-    check_family(lots)
-    return unbuilt_in(lots)
+    masks = checked_masks(lots)
+    built = built_lots(masks)
+    return sorted([
+        (list(lot), name) for name in masks for lot, mask in zip(lots[name], masks[name]) if mask not in built
+    ])
+
+
+def are_built(masks):
+    """Returns whether all lots of a family are built, all as numbers."""
+    return len(built_lots(masks)) == len(owners_of(masks))
 
 
 def are_lots(value):
     """Returns whether any object is a family that is the least ahead lots of some panel."""
-    return is_family(value) and not unbuilt_in(value)
+    masks = family_masks(value)
+    return masks is not None and are_built(masks)
 
 
-def check_lots(lots):
-    """Raises InvalidLots unless it is passed the least ahead lots of some panel."""
-    if not are_lots(lots):
+def masks_of_panel(lots):
+    """Returns the least ahead lots of some panel as numbers; raises InvalidLots unless it is passed such."""
+    masks = checked_masks(lots)
+    if not are_built(masks):
         raise InvalidLots(lots)
+    return masks
 
 
 def row_of_head(masks, lot, entry):
@@ -151,8 +203,8 @@ def row_of_head(masks, lot, entry):
 
 def panel_of(lots):
     """Returns a panel that has just these least ahead lots."""
-    check_lots(lots)
-    bits, masks = bits_of(sorted(lots)), family_masks(lots)
+    masks = masks_of_panel(lots)
+    bits = bits_of(list(masks))
     rows, shown = [], []
     for lot, name in heads_in(lots):
         # A row that was made for another head often has this one as well.
@@ -160,10 +212,10 @@ def panel_of(lots):
             row = row_of_head(masks, lot, name)
             rows.append(row)
             shown.append(masks_ahead(bits, row))
-    return Panel(sorted(lots), rows)
+    return Panel(list(masks), rows)
 
 
 def is_panel_of(lots, value):
     """Returns whether any object is a panel that has just these least ahead lots."""
-    check_lots(lots)
-    return isinstance(value, Panel) and lots_of(value) == lots
+    masks = masks_of_panel(lots)
+    return isinstance(value, Panel) and least_ahead(value) == {name: sorted(masks[name]) for name in masks}
