@@ -119,9 +119,9 @@ def is_apart(panel, value):
     if not are_heads(lots_of(panel), value) or not is_ascending(value):
         return False
     numbers = numbers_of(panel, value)
-    if any([lies_within(one, other) for one in numbers for other in numbers]):
+    if len(numbers) != fewest_for(panel, heads(panel)):
         return False
-    return len(value) == fewest_for(panel, heads(panel))
+    return not any([lies_within(one, other) for one in numbers for other in numbers])
 
 
 def chains(panel):

@@ -141,9 +141,10 @@ def taken_in_turn(masks, taken, names):
 def owners_of(masks):
     """Returns a dictionary from the lots of a family, ascending, to the bits of their entries, all as numbers."""
     bits = bits_of(list(masks))
-    found = {lot: [] for lot in sorted(set([lot for lots in list(masks.values()) for lot in lots]))}
-    for name, lots in masks.items():
-        for lot in lots:
+    every = [each for lots in list(masks.values()) for each in lots]
+    found = {each: [] for each in sorted(set(every))}
+    for name in masks:
+        for lot in masks[name]:
             found[lot].append(bits[name])
     return found
 

@@ -3,7 +3,6 @@
 from cardpanel.alike import bad_row
 from cardpanel.alike import field_beyond
 from cardpanel.alike import within
-from cardpanel.basics import check_field
 from cardpanel.basics import is_field
 from cardpanel.errors import InvalidTree
 from cardpanel.panels import cards
@@ -76,7 +75,6 @@ def widest(panel, tree):
 def finals(first, second, field):
     """Returns the cards of the second panel among the cards of the first one on a field."""
     check_panels(first, second)
-    check_field(first.entries(), field)
     return cards(second, cards(first, field))
 
 

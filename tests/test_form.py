@@ -14,6 +14,10 @@ WORDS = {
     "type", "typing", "enum", "Enum", "Generic", "Protocol", "ABC", "namedtuple", "eval", "exec", "open", "input",
     "register", "elements", "law", "id", "dir", "vars", "globals", "locals", "compile", "help", "os", "gc", "super",
 }
+CALLED = set("""append clear copy count endswith extend find get index insert isalnum isalpha isdigit islower isspace isupper
+items join keys ljust lower lstrip partition pop remove replace reverse rfind rjust rpartition rsplit rstrip setdefault
+split splitlines startswith strip update upper values zfill bit_length""".split())
+COMPREHENSIONS = (ast.ListComp, ast.SetComp, ast.DictComp)
 BARRED = (
     ast.AsyncFunctionDef, ast.AsyncFor, ast.AsyncWith, ast.Await, ast.GeneratorExp, ast.Import, ast.Global, ast.Yield,
     ast.YieldFrom, ast.Div, ast.Starred, ast.Set,
@@ -50,6 +54,12 @@ def names_bound(tree):
         elif isinstance(node, ast.alias):
             found.append(node.name)
     return found
+
+
+def variables(comprehension):
+    """The names that a comprehension gives something."""
+    targets = [each.target for each in comprehension.generators]
+    return {node.id for target in targets for node in ast.walk(target) if isinstance(node, ast.Name)} - {"_"}
 
 
 class Form(TestCase):
@@ -125,6 +135,19 @@ class Form(TestCase):
             around = [node for node in calls if isinstance(node.func, ast.Name) and node.func.id in ("sorted", "len")]
             for each in sets:
                 self.assertTrue(any(each in node.args for node in around), (name, each.lineno))
+
+    def test_methods_are_those_of_the_list_or_own_ones(self):
+        own = {each.name for _, tree in trees() for each in functions_of(tree)}
+        for name, tree in trees():
+            for node in ast.walk(tree):
+                if isinstance(node, ast.Call) and isinstance(node.func, ast.Attribute):
+                    self.assertTrue(node.func.attr in CALLED or node.func.attr in own, (name, node.func.attr))
+
+    def test_inner_comprehensions_have_names_of_their_own(self):
+        for name, tree in trees():
+            for outer in [node for node in ast.walk(tree) if isinstance(node, COMPREHENSIONS)]:
+                for inner in [node for node in ast.walk(outer) if isinstance(node, COMPREHENSIONS) and node != outer]:
+                    self.assertFalse(variables(outer) & variables(inner), (name, inner.lineno))
 
     def test_the_interface_is_no_part_of_the_tests(self):
         self.assertFalse([name for name in package_files() if name.startswith("test")])
