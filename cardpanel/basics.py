@@ -116,6 +116,20 @@ def mask_of(bits, lot):
     return sum([bits[name] for name in lot])
 
 
+def number_of_lot(bits, value):
+    """Returns the number of an ascending list of entries that have bits, None for any other object."""
+    if not isinstance(value, list):
+        return None
+    mask = 0
+    for name in value:
+        bit = bits.get(name, 0) if isinstance(name, str) else 0
+        # The bits ascend as the entries do, so one that is to come is greater than all that came together.
+        if bit <= mask:
+            return None
+        mask = mask | bit
+    return mask
+
+
 def lot_of(bits, mask):
     """Returns the lot that a number stands for."""
     return [name for name in bits if bits[name] & mask]

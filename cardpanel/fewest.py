@@ -20,6 +20,7 @@ from cardpanel.errors import InvalidRows
 from cardpanel.errors import LastRow
 from cardpanel.heads import heads
 from cardpanel.heads import lots_of
+from cardpanel.meeting import signed_unions
 from cardpanel.panels import Panel
 from cardpanel.panels import ahead_masks
 from cardpanel.panels import check_panel
@@ -199,20 +200,6 @@ def own_heads(panel, at):
     check_panel(panel)
     check_position(len(panel), at)
     return [head for head, having in zip(heads(panel), holders(panel)) if having == [at]]
-
-
-def signed_unions(start, masks):
-    """Returns the sums of signs by unions: of a lot and some of others, plus for an even number of these, else minus.
-
-    The sums are a dictionary from the unions, as numbers, so that what comes of several choices is counted at once.
-    """
-    found = {start: 1}
-    for mask in masks:
-        longer = dict(found)
-        for union, sign in found.items():
-            longer[union | mask] = longer.get(union | mask, 0) - sign
-        found = longer
-    return found
 
 
 def fields_alone(stewards, at, name):

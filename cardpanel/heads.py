@@ -11,6 +11,7 @@ from cardpanel.basics import least_masks
 from cardpanel.basics import lot_of
 from cardpanel.basics import mask_of
 from cardpanel.basics import masks_ahead
+from cardpanel.basics import number_of_lot
 from cardpanel.basics import united
 from cardpanel.errors import InvalidLots
 from cardpanel.panels import Panel
@@ -25,6 +26,11 @@ def least_ahead(panel):
     return {name: least_masks([masks[name] for masks in stewards]) for name in panel.entries()}
 
 
+def least_of(panel, entry):
+    """Returns the least ahead lots of an entry, ascending, as numbers."""
+    return least_masks([steward[entry] for steward in ahead_masks(panel)])
+
+
 def sorted_lots(bits, masks):
     """Returns the ascending list of the lots that some numbers stand for."""
     return sorted([lot_of(bits, mask) for mask in masks])
@@ -34,8 +40,7 @@ def least_lots(panel, entry):
     """Returns the ascending list of the least ahead lots of an entry."""
     check_panel(panel)
     check_entry(panel.entries(), entry)
-    masks = least_masks([steward[entry] for steward in ahead_masks(panel)])
-    return sorted_lots(bits_of(panel.entries()), masks)
+    return sorted_lots(bits_of(panel.entries()), least_of(panel, entry))
 
 
 def lots_of(panel):
@@ -61,20 +66,6 @@ def stewards_of(panel, lot, entry):
     check_lot(panel.entries(), lot)
     check_entry(panel.entries(), entry)
     return [at for at in range(len(panel)) if ahead(panel, at, entry) == lot]
-
-
-def number_of_lot(bits, value):
-    """Returns the number of an ascending list of entries that have bits, None for any other object."""
-    if not isinstance(value, list):
-        return None
-    mask = 0
-    for name in value:
-        bit = bits.get(name, 0) if isinstance(name, str) else 0
-        # The bits ascend as the entries do, so one that is to come is greater than all that came together.
-        if bit <= mask:
-            return None
-        mask = mask | bit
-    return mask
 
 
 def numbers_of_lots(bits, entry, value):

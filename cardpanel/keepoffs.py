@@ -1,7 +1,6 @@
 """Lots that keep an entry off: it gets no card wherever all of the lot is there."""
 
 from cardpanel.basics import bits_of
-from cardpanel.basics import check_entry
 from cardpanel.basics import is_ascending
 from cardpanel.basics import is_count
 from cardpanel.basics import is_field
@@ -19,12 +18,7 @@ from cardpanel.meeting import lots_met
 from cardpanel.meeting import shortest_meeting
 from cardpanel.panels import ahead_masks
 from cardpanel.panels import check_panel
-
-
-def check_panel_and_entry(panel, entry):
-    """Raises an error unless it is passed a panel and one of its entries."""
-    check_panel(panel)
-    check_entry(panel.entries(), entry)
+from cardpanel.panels import check_panel_and_entry
 
 
 def others_of(panel, entry):

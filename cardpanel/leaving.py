@@ -15,17 +15,12 @@ from cardpanel.heads import sorted_lots
 from cardpanel.panels import ahead_masks
 from cardpanel.panels import cards
 from cardpanel.panels import check_panel
-
-
-def check_panel_and_gone(panel, gone):
-    """Raises an error unless it is passed a panel and one of its entries."""
-    check_panel(panel)
-    check_entry(panel.entries(), gone)
+from cardpanel.panels import check_panel_and_entry
 
 
 def check_two_entries(panel, gone, entry):
     """Raises an error unless it is passed a panel and two unlike entries of it."""
-    check_panel_and_gone(panel, gone)
+    check_panel_and_entry(panel, gone)
     if entry not in panel.entries() or entry == gone:
         raise UnknownEntry(entry)
 
@@ -43,7 +38,7 @@ def without(field, name):
 
 def comes_in(panel, gone):
     """Returns the ascending list of the entries that somewhere get a card just when one goes."""
-    check_panel_and_gone(panel, gone)
+    check_panel_and_entry(panel, gone)
     return [name for name, least in lots_of(panel).items() if any([gone in lot for lot in least])]
 
 

@@ -54,3 +54,17 @@ def is_all_needed(lot, masks):
         if not met & (met - 1):
             needed = needed | met
     return needed == lot
+
+
+def signed_unions(start, masks):
+    """Returns the sums of signs by unions: of a lot and some of others, plus for an even number of these, else minus.
+
+    The sums are a dictionary from the unions, as numbers, so that what comes of several choices is counted at once.
+    """
+    found = {start: 1}
+    for mask in masks:
+        longer = dict(found)
+        for union, sign in found.items():
+            longer[union | mask] = longer.get(union | mask, 0) - sign
+        found = longer
+    return found

@@ -80,6 +80,12 @@ def check_panel(panel):
         raise InvalidPanel(panel)
 
 
+def check_panel_and_entry(panel, entry):
+    """Raises an error unless it is passed a panel and one of its entries."""
+    check_panel(panel)
+    check_entry(panel.entries(), entry)
+
+
 def check_panels(one, other):
     """Raises InvalidPanel or Unlike unless it is passed two panels of the same entries."""
     check_panel(one)

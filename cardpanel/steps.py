@@ -4,6 +4,7 @@ from cardpanel.basics import bits_in
 from cardpanel.basics import bits_of
 from cardpanel.basics import is_row
 from cardpanel.basics import masks_ahead
+from cardpanel.heads import sorted_lots
 from cardpanel.panels import ahead_masks
 
 
@@ -29,15 +30,48 @@ def may_be_next(rows, taken):
     return found
 
 
-def stages_of_takings(rows):
-    """Returns, for each number of entries, a dictionary from the takeable lots of so many to who may be next."""
+def stages_by(next_of, many):
+    """Returns, for each number of so many entries, a dictionary from the lots that can be taken to who may be next.
+
+    Who may be next behind a lot is what the function `next_of` returns for it; in time all of them may be taken.
+    """
     stages, lots = [], [0]
-    for _ in range(len(rows[0]) + 1):
-        stage = {lot: may_be_next(rows, lot) for lot in lots}
+    for _ in range(many + 1):
+        stage = {lot: next_of(lot) for lot in lots}
         stages.append(stage)
         after = {lot | bit: True for lot, following in stage.items() for bit in bits_in(following)}
         lots = list(after)
     return stages
+
+
+def stages_of_takings(rows):
+    """Returns the stages of the rows of takings of a panel with these rows, of bits."""
+    return stages_by(lambda taken: may_be_next(rows, taken), len(rows[0]))
+
+
+def ways_on(stages):
+    """Returns a dictionary from the lots of some stages to how many rows go on from them."""
+    ways = {}
+    for stage in reversed(stages):
+        for lot, following in stage.items():
+            # Behind all entries just one row goes on: nothing more is taken.
+            ways[lot] = sum([ways[lot | bit] for bit in bits_in(following)]) if following else 1
+    return ways
+
+
+def least_behind(bits, stages):
+    """Returns a dictionary from the entries to the least lots behind which they may be next, as lists."""
+    least, before = {bit: [] for bit in list(bits.values())}, {0: 0}
+    for stage in stages:
+        after = {}
+        for lot, following in stage.items():
+            # Whoever might be taken with one entry less taken has a lesser lot.
+            for bit in bits_in(following & ~before[lot]):
+                least[bit].append(lot)
+            for bit in bits_in(following):
+                after[lot | bit] = after.get(lot | bit, 0) | following
+        before = after
+    return {name: sorted_lots(bits, least[bit]) for name, bit in bits.items()}
 
 
 def takeable_lots(panel):

@@ -23,6 +23,7 @@ from cardpanel.steps import may_be_next
 from cardpanel.steps import may_follow
 from cardpanel.steps import rows_as_bits
 from cardpanel.steps import stages_of_takings
+from cardpanel.steps import ways_on
 
 
 def beginning_within(row, mask):
@@ -87,20 +88,15 @@ def taking_of(panel, lot):
     return gone_on(panel, first)
 
 
-def ways_on(panel):
+def ways_of(panel):
     """Returns a dictionary from the takeable lots, as numbers, to how many rows of takings go on from them."""
-    ways = {}
-    for stage in reversed(stages_of_takings(rows_as_bits(panel))):
-        for lot, following in stage.items():
-            # Behind all entries just one row goes on: nothing more is taken.
-            ways[lot] = sum([ways[lot | bit] for bit in bits_in(following)]) if following else 1
-    return ways
+    return ways_on(stages_of_takings(rows_as_bits(panel)))
 
 
 def count_takings(panel):
     """Returns the number of the rows of takings."""
     check_panel(panel)
-    return ways_on(panel)[0]
+    return ways_of(panel)[0]
 
 
 def count_takeable(panel):
@@ -112,7 +108,7 @@ def count_takeable(panel):
 def taking_at(panel, number):
     """Returns the row of takings with a number, in ascending order."""
     check_panel(panel)
-    ways, rows, bits = ways_on(panel), rows_as_bits(panel), bits_of(panel.entries())
+    ways, rows, bits = ways_of(panel), rows_as_bits(panel), bits_of(panel.entries())
     if not is_count(number) or number >= ways[0]:
         raise InvalidCount(number)
     found, taken, left = [], 0, number
@@ -129,7 +125,7 @@ def taking_at(panel, number):
 def taking_number(panel, row):
     """Returns the number of a row of takings, in ascending order."""
     check_taking(panel, row)
-    ways, rows, bits = ways_on(panel), rows_as_bits(panel), bits_of(panel.entries())
+    ways, rows, bits = ways_of(panel), rows_as_bits(panel), bits_of(panel.entries())
     number = 0
     for name, taken in masks_ahead(bits, row).items():
         lesser = [bit for bit in bits_in(may_be_next(rows, taken)) if bit < bits[name]]

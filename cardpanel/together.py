@@ -1,6 +1,5 @@
 """Panels put together: side by side, behind one another, and one in the place of an entry of another one."""
 
-from cardpanel.basics import bits_in
 from cardpanel.basics import bits_of
 from cardpanel.basics import check_entry
 from cardpanel.basics import is_field
@@ -14,13 +13,14 @@ from cardpanel.errors import TakenEntry
 from cardpanel.fewest import fewest_rows
 from cardpanel.heads import least_ahead
 from cardpanel.heads import lots_of
-from cardpanel.heads import sorted_lots
 from cardpanel.panels import Panel
 from cardpanel.panels import cards
 from cardpanel.panels import check_panel
 from cardpanel.panels import check_panels
+from cardpanel.steps import least_behind
 from cardpanel.steps import may_be_next
 from cardpanel.steps import rows_as_bits
+from cardpanel.steps import stages_by
 
 
 def joint(one, other):
@@ -55,32 +55,12 @@ def is_stuck_field(one, other, value):
     return not any([name in given for name in cards(one, value)])
 
 
-def stage_behind(stage, ours, theirs):
-    """Returns who may be next, as both panels name them, behind the lots of one entry more, and who might before.
-
-    A stage is a dictionary from lots to tuples of both, as numbers.
-    """
-    before = {}
-    for lot, (following, _) in stage.items():
-        for bit in bits_in(following):
-            before[lot | bit] = before.get(lot | bit, 0) | following
-    return {lot: (both_next(ours, theirs, lot), earlier) for lot, earlier in before.items()}
-
-
 def greatest_within(one, other):
     """Returns the least ahead lots of the greatest panel within both panels, None if no panel is."""
     if stuck_field(one, other) is not None:
         return None
     bits, ours, theirs = bits_of(one.entries()), rows_as_bits(one), rows_as_bits(other)
-    least = {bit: [] for bit in list(bits.values())}
-    stage = {0: (both_next(ours, theirs, 0), 0)}
-    while stage:
-        for lot, (following, earlier) in stage.items():
-            # Whoever might be taken with one entry less taken has a lesser lot.
-            for bit in bits_in(following & ~earlier):
-                least[bit].append(lot)
-        stage = stage_behind(stage, ours, theirs)
-    return {name: sorted_lots(bits, least[bit]) for name, bit in bits.items()}
+    return least_behind(bits, stages_by(lambda taken: both_next(ours, theirs, taken), len(bits)))
 
 
 def check_apart(one, other):

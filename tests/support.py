@@ -112,3 +112,60 @@ def big_panel(seed, entries, stewards):
     """A panel of so many entries and stewards."""
     numbers, names = some_numbers(seed), big_names(entries)
     return Panel(names, [shuffled(numbers, names) for _ in range(stewards)])
+
+
+def calls_about(entries):
+    """All calls about some entries, as lines of books."""
+    return [("call", field, name) for field in fields(entries) for name in field]
+
+
+def offs_about(entries):
+    """All keep-offs about some entries, as lines of books."""
+    return [("off", lot, name) for lot in fields(entries) for name in entries if name not in lot]
+
+
+def row_keeps(row, line):
+    """Whether a row meets a call, or keeps a keep-off."""
+    word, lot, name = line
+    ahead = row[:row.index(name)]
+    return not any(other in ahead for other in lot) if word == "call" else any(other in ahead for other in lot)
+
+
+def panel_keeps(rows, line):
+    """Whether a panel keeps a line, by what the document says of cards."""
+    word, lot, name = line
+    if word == "call":
+        return name in told_cards(rows, lot)
+    others = [other for other in rows[0] if other not in lot and other != name]
+    return not any(name in told_cards(rows, sorted(lot + [name] + more)) for more in lots(others))
+
+
+def some_lines(numbers, entries, many):
+    """A list of so many lines about some entries, perhaps with one twice."""
+    every = calls_about(entries) + offs_about(entries) * 2
+    return [every[next(numbers) % len(every)] for _ in range(many)]
+
+
+def odd_lines():
+    """What is no line about the entries a, b and c."""
+    return odd_objects() + [("call", ["a", "b"], "c"), ("off", ["a", "b"], "a"), ("off", [], "a"), ("call", [], "a"),
+                            ["call", ["a"], "a"], ("call", ("a",), "a"), ("Call", ["a"], "a"), ("call", ["a"]),
+                            ("call", ["b", "a"], "a"), ("call", ["a", "a"], "a"), ("off", ["d"], "a"),
+                            ("off", ["a"], "d"), ("call", ["a"], "a", None), ("off", "a", "b"), ("off", ["a"], ["b"]),
+                            ("off", ["a"], True), (None, ["a"], "a"), ("call", ["a", 1], "a"), ("off", None, "a"),
+                            ("call", {"a": 1}, "a"), (["call"], ["a"], "a"), ("call", [["a"]], "a")]
+
+
+def big_book(seed, many, calls):
+    """A book of 40 entries and so many lines, of which so many are calls, that a panel of six stewards keeps."""
+    numbers, panel = some_numbers(seed), big_panel(seed, 40, 6)
+    names, lines = panel.entries(), []
+    while len(lines) < many:
+        field = sorted(shuffled(numbers, names)[:2 + next(numbers) % 5])
+        name = field[next(numbers) % len(field)]
+        others = [other for other in field if other != name]
+        line = ("call", field, name) if len(lines) < calls else ("off", others, name)
+        met = [row_keeps(row, line) for row in panel.rows()]
+        if (any(met) if line[0] == "call" else all(met)) and line not in lines:
+            lines.append(line)
+    return names, lines, panel

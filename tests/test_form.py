@@ -10,6 +10,7 @@ BUILTINS = {
     "tuple", "dict", "set", "isinstance", "ord", "any", "all", "divmod", "ValueError",
 }
 METHODS = {"__init__", "__eq__", "__len__"}
+LIBRARY = {("math", "comb"), ("math", "gcd"), ("itertools", "combinations")}
 WORDS = {
     "type", "typing", "enum", "Enum", "Generic", "Protocol", "ABC", "namedtuple", "eval", "exec", "open", "input",
     "register", "elements", "law", "id", "dir", "vars", "globals", "locals", "compile", "help", "os", "gc", "super",
@@ -84,8 +85,10 @@ class Form(TestCase):
         for name, tree in trees():
             imported[name] = []
             for node in ast.walk(tree):
-                if isinstance(node, ast.ImportFrom):
-                    self.assertTrue(node.module.startswith("cardpanel.") and node.level == 0, node.module)
+                if isinstance(node, ast.ImportFrom) and not node.module.startswith("cardpanel."):
+                    self.assertTrue(all((node.module, alias.name) in LIBRARY for alias in node.names), node.module)
+                elif isinstance(node, ast.ImportFrom):
+                    self.assertEqual(node.level, 0)
                     source = node.module.split(".")[1] + ".py"
                     imported[name].append(source)
                     defined = [each.name for each in ast.parse(text_of(source)).body if hasattr(each, "name")]

@@ -4,10 +4,12 @@ import inspect
 from copy import deepcopy
 from unittest import main
 
-from cardpanel import (alike, errors, fewest, heads, heats, keepoffs, leaving, panels, spans, tables, takings,
-                       together)
-from cardpanel.errors import (InvalidCount, InvalidEntries, InvalidEntry, InvalidField, InvalidLot, InvalidLots,
-                              InvalidPanel, InvalidRow, InvalidRows, InvalidTable, InvalidTree, UnknownEntry)
+from cardpanel import (alike, books, chances, errors, fewest, heads, heats, implied, keepoffs, leaving, panels, several,
+                       spans, tables, takings, together)
+from cardpanel.books import Book
+from cardpanel.errors import (InvalidBook, InvalidChances, InvalidCount, InvalidEntries, InvalidEntry, InvalidField,
+                              InvalidLine, InvalidLot, InvalidLots, InvalidPanel, InvalidRow, InvalidRows,
+                              InvalidStewards, InvalidTable, InvalidTree, Unlike, UnknownEntry)
 from cardpanel.panels import Panel
 from support import Case, big_names, big_panel
 
@@ -47,9 +49,27 @@ INTERFACE = {
     together: ["joint(one, other)", "greatest_within(one, other)", "stuck_field(one, other)",
                "is_stuck_field(one, other, value)", "side_by_side(one, other)", "behind(one, other)",
                "instead(panel, entry, inner)", "as_one(panel, lot, entry)", "is_as_one(panel, lot, entry, value)"],
+    chances: ["count_naming(panel, entry)", "count_both(panel, one, other)", "count_first(panel, one, other)",
+              "counts_by_size(panel, entry)", "count_cards(panel, many)", "chance_of_card(panel, chances, entry)",
+              "chance_of_cards(panel, chances, lot)", "mean_cards(panel, chances)",
+              "chance_if(panel, chances, entry, other)"],
+    several: ["several_cards(entries, stewards, field)", "several_lots(entries, stewards, entry)",
+              "plain_panel(entries, stewards)", "is_plain(entries, stewards, value)",
+              "alike_stewards(entries, one, other)", "parting_several(entries, one, other)", "one_steward(panel)"],
+    books: ["keeps(book, panel)", "why_broken(book, panel)", "row_with(book, wishes)",
+            "is_row_with(book, wishes, value)", "stuck(book, wishes)", "is_stuck(book, wishes, value)",
+            "some_panel(book)", "why_none(book)", "is_bar(book, value)", "count_rows(book)"],
+    implied: ["contrary(line)", "follows(book, line)", "reasons(book, line)", "is_reasons(book, line, value)",
+              "all_follow(one, other)", "same_book(one, other)", "parting_panel(one, other)",
+              "check_parting_panel(one, other, value)", "needless_lines(book)", "lean_book(book)", "book_of(panel)",
+              "greatest_lots(book)", "least_book(panel)"],
 }
-METHODS = ["entries(self)", "rows(self)", "__len__(self)", "with_row(self, row)", "without_row(self, at)",
-           "struck(self, lot)", "renamed(self, names)", "__eq__(self, other)", "__init__(self, entries, rows)"]
+METHODS = {
+    Panel: ["entries(self)", "rows(self)", "__len__(self)", "with_row(self, row)", "without_row(self, at)",
+            "struck(self, lot)", "renamed(self, names)", "__eq__(self, other)", "__init__(self, entries, rows)"],
+    Book: ["entries(self)", "lines(self)", "with_line(self, line)", "without_line(self, line)", "__eq__(self, other)",
+           "__init__(self, entries, lines)"],
+}
 
 
 def show():
@@ -89,6 +109,61 @@ def calls():
         (together.behind, [show(), inn()]), (together.instead, [show(), "b", inn()]),
         (together.as_one, [together.instead(show(), "b", inn()), ["x", "y"], "b"]),
         (together.is_as_one, [together.instead(show(), "b", inn()), ["x", "y"], "b", (show(), inn())]),
+    ] + calls_of_chances_and_several() + calls_of_books()
+
+
+def weather():
+    return {"a": (1, 2), "b": (2, 3), "c": (6, 8), "d": (0, 5)}
+
+
+def pair_of_stewards():
+    return [(2, ["a", "b", "c"]), (1, ["c", "b", "a"])]
+
+
+def calls_of_chances_and_several():
+    return [
+        (chances.count_naming, [show(), "c"]), (chances.count_both, [show(), "b", "c"]),
+        (chances.count_first, [show(), "a", "b"]), (chances.counts_by_size, [show(), "c"]),
+        (chances.count_cards, [show(), 2]), (chances.chance_of_card, [show(), weather(), "b"]),
+        (chances.chance_of_cards, [show(), weather(), ["a"]]), (chances.mean_cards, [show(), weather()]),
+        (chances.chance_if, [show(), weather(), "b", "a"]),
+        (several.several_cards, [["b", "a", "c"], pair_of_stewards(), ["a", "b"]]),
+        (several.several_lots, [["b", "a", "c"], pair_of_stewards(), "c"]),
+        (several.plain_panel, [["b", "a", "c"], pair_of_stewards()]),
+        (several.is_plain, [["b", "a", "c"], pair_of_stewards(), show()]),
+        (several.alike_stewards, [["b", "a", "c"], pair_of_stewards(), pair_of_stewards()[::-1]]),
+        (several.parting_several, [["b", "a", "c"], pair_of_stewards(), pair_of_stewards()[1:]]),
+        (several.one_steward, [Panel(["a", "b", "c"], [["a", "b", "c"], ["c", "b", "a"]])]),
+    ]
+
+
+def book():
+    return Book(["d", "a", "b", "c"], [("off", ["a", "b"], "c"), ("call", ["a", "d"], "d"), ("call", ["b", "c"], "b")])
+
+
+def lines_of_book():
+    return [("call", ["a", "d"], "d"), ("off", ["a"], "c"), ("off", ["c"], "a")]
+
+
+def calls_of_books():
+    stuck = Book(["a", "b", "c", "d"], lines_of_book())
+    return [
+        (Book, [["d", "b", "a", "c"], lines_of_book()]), (Book.with_line, [book(), ("off", ["d"], "b")]),
+        (Book.without_line, [book(), ("off", ["a", "b"], "c")]), (Book.lines, [book()]), (Book.entries, [book()]),
+        (books.keeps, [book(), show()]), (books.why_broken, [book(), Panel(["a", "b", "c", "d"], [["c", "a", "b", "d"]])]),
+        (books.row_with, [book(), [(["a", "b"], "b")]]),
+        (books.is_row_with, [book(), [(["a", "b"], "b")], ["b", "a", "c", "d"]]),
+        (books.stuck, [stuck, [(["a", "b"], "b")]]), (books.is_stuck, [stuck, [(["a", "b"], "b")], ["a", "c"]]),
+        (books.some_panel, [book()]), (books.why_none, [stuck]), (books.is_bar, [stuck, (None, ["a", "c"])]),
+        (books.count_rows, [book()]), (implied.contrary, [("off", ["a", "c"], "b")]),
+        (implied.follows, [book(), ("off", ["a", "b", "d"], "c")]), (implied.reasons, [book(), ("off", ["a"], "c")]),
+        (implied.reasons, [book(), ("off", ["a", "b", "d"], "c")]),
+        (implied.is_reasons, [book(), ("off", ["a"], "c"), ("parts", show())]),
+        (implied.all_follow, [book(), stuck]), (implied.same_book, [book(), stuck]),
+        (implied.parting_panel, [book(), stuck]), (implied.check_parting_panel, [book(), stuck, show()]),
+        (implied.needless_lines, [book().with_line(("off", ["a", "b", "d"], "c"))]),
+        (implied.lean_book, [book().with_line(("off", ["a", "b", "d"], "c"))]), (implied.book_of, [show()]),
+        (implied.greatest_lots, [book()]), (implied.least_book, [show()]),
     ]
 
 
@@ -175,10 +250,11 @@ class Interface(Case):
                 self.assertEqual(function.__module__, module.__name__)
 
     def test_methods_have_the_arguments_and_stand_in_the_class(self):
-        self.assertEqual(Panel.__module__, "cardpanel.panels")
-        for line in METHODS:
-            method = vars(Panel)[line.split("(")[0]]
-            self.assertEqual(method.__name__ + str(inspect.signature(method)), line)
+        self.assertEqual([Panel.__module__, Book.__module__], ["cardpanel.panels", "cardpanel.books"])
+        for each, lines in METHODS.items():
+            for line in lines:
+                method = vars(each)[line.split("(")[0]]
+                self.assertEqual(method.__name__ + str(inspect.signature(method)), line)
 
     def test_every_error_class_is_a_class(self):
         self.assertEqual(len([each for each in vars(errors).values() if isinstance(each, type)]), 28)
@@ -204,15 +280,18 @@ class SameAnswers(Case):
             kept = deepcopy(found)
             spoil(found)
             self.assertEqual(function(*passed), kept)
-            for method in (Panel.rows, Panel.entries):
-                spoil(method(passed[0]) if isinstance(passed[0], Panel) else [])
+            for each in passed:
+                if isinstance(each, Panel):
+                    spoil([each.rows(), each.entries()])
+                if isinstance(each, Book):
+                    spoil([each.lines(), each.entries()])
             self.assertEqual(function(*passed), kept)
 
     def test_passed_lists_may_be_changed(self):
         for function, passed in calls():
             found = function(*passed)
             kept = deepcopy(found)
-            spoil([each for each in passed if not isinstance(each, Panel)])
+            spoil([each for each in passed if not isinstance(each, (Panel, Book))])
             self.assertEqual(found, kept)
 
     def test_lists_passed_to_panels_may_be_changed(self):
@@ -292,6 +371,25 @@ class FirstWrongArgument(Case):
         self.raises(UnknownEntry, bad, together.instead, panel, bad, bad)
         self.raises(InvalidLot, bad, together.is_as_one, panel, bad, bad, bad)
         self.raises(InvalidEntry, bad, together.is_as_one, panel, ["a"], bad, bad)
+
+    def test_in_the_order_of_the_parameters_of_chances_several_books_and_what_follows(self):
+        panel, bad, names = show(), ["no panel"], ["a", "b", "c"]
+        self.raises(UnknownEntry, bad, chances.count_both, panel, bad, 5)
+        self.raises(InvalidChances, bad, chances.chance_if, panel, bad, bad, bad)
+        self.raises(UnknownEntry, bad, chances.chance_if, panel, weather(), bad, 5)
+        self.raises(InvalidEntries, panel, several.several_cards, panel, bad, bad)
+        self.raises(InvalidStewards, bad, several.several_cards, names, bad, [])
+        self.raises(InvalidStewards, panel, several.alike_stewards, names, panel, bad)
+        self.raises(InvalidEntries, bad, Book, bad, 5)
+        self.raises(InvalidBook, panel, books.keeps, panel, panel)
+        self.raises(InvalidPanel, bad, books.keeps, book(), bad)
+        self.raises(InvalidBook, panel, books.is_stuck, panel, 5, [])
+        self.raises(InvalidBook, bad, implied.is_reasons, bad, bad, bad)
+        self.raises(InvalidLine, bad, implied.is_reasons, book(), bad, bad)
+        self.raises(InvalidBook, bad, implied.same_book, bad, 5)
+        self.raises(InvalidBook, bad, implied.same_book, book(), bad)
+        other = Book(["a"], [])
+        self.raises(Unlike, other, implied.check_parting_panel, book(), other, None)
 
     def test_also_when_passed_by_name(self):
         self.raises(InvalidCount, -1, panels.named, field=[], at=-1, panel=show())
