@@ -4,6 +4,7 @@ from cardpanel.basics import bits_in
 from cardpanel.basics import bits_of
 from cardpanel.basics import check_entries
 from cardpanel.basics import holds_one
+from cardpanel.basics import is_name
 from cardpanel.basics import is_row
 from cardpanel.basics import lot_of
 from cardpanel.basics import mask_of
@@ -33,6 +34,14 @@ def is_line(bits, value):
     if not mask or not isinstance(name, str) or name not in bits:
         return False
     return word == ("call" if bits[name] & mask else "off")
+
+
+def is_some_line(value):
+    """Returns whether any object is a line about some entries."""
+    if not isinstance(value, tuple) or len(value) != 3 or not isinstance(value[1], list):
+        return False
+    names = value[1] + [value[2]]
+    return all([is_name(name) for name in names]) and is_line(bits_of(sorted(set(names))), value)
 
 
 def are_lines(bits, value):

@@ -1,12 +1,12 @@
 """What follows from books of calls and keep-offs, and the books of panels."""
 
 from cardpanel.basics import bits_of
-from cardpanel.basics import is_name
 from cardpanel.basics import mask_of
 from cardpanel.books import Book
 from cardpanel.books import check_book
 from cardpanel.books import is_bar
 from cardpanel.books import is_line
+from cardpanel.books import is_some_line
 from cardpanel.books import keeps
 from cardpanel.books import rows_by
 from cardpanel.books import rules_of
@@ -25,14 +25,6 @@ from cardpanel.rules import left_over
 from cardpanel.rules import stages_of_rows
 from cardpanel.rules import sure_lots
 from cardpanel.steps import least_behind
-
-
-def is_some_line(value):
-    """Returns whether any object is a line about some entries."""
-    if not isinstance(value, tuple) or len(value) != 3 or not isinstance(value[1], list):
-        return False
-    names = value[1] + [value[2]]
-    return all([is_name(name) for name in names]) and is_line(bits_of(sorted(set(names))), value)
 
 
 def contrary_of(line):

@@ -9,7 +9,7 @@ BUILTINS = {
     "len", "range", "enumerate", "zip", "min", "max", "sum", "abs", "sorted", "reversed", "int", "str", "bool", "list",
     "tuple", "dict", "set", "isinstance", "ord", "any", "all", "divmod", "ValueError",
 }
-METHODS = {"__init__", "__eq__", "__len__"}
+METHODS = {"__init__", "__eq__", "__len__", "__enter__", "__exit__"}
 LIBRARY = {("math", "comb"), ("math", "gcd"), ("itertools", "combinations")}
 WORDS = {
     "type", "typing", "enum", "Enum", "Generic", "Protocol", "ABC", "namedtuple", "eval", "exec", "open", "input",
@@ -117,7 +117,8 @@ class Form(TestCase):
             for node in tree.body[1:]:
                 self.assertIsInstance(node, kinds, name)
                 if isinstance(node, ast.Assign):
-                    self.assertIsInstance(node.value, ast.Constant, name)
+                    values = node.value.values if isinstance(node.value, ast.Dict) else [node.value]
+                    self.assertTrue(all(isinstance(each, ast.Constant) for each in values), name)
 
     def test_names_and_builtins(self):
         builtins = dir(__builtins__) if not isinstance(__builtins__, dict) else list(__builtins__)
@@ -130,6 +131,20 @@ class Form(TestCase):
                 self.assertNotIsInstance(node, BARRED, name)
                 if isinstance(node, ast.Name) and node.id in builtins:
                     self.assertIn(node.id, BUILTINS, name)
+
+    def test_what_is_done_when_a_block_is_left_is_plain(self):
+        for name, tree in trees():
+            for function in [each for each in functions_of(tree) if each.name == "__exit__"]:
+                for row in function.body:
+                    self.assertIsInstance(row, ast.Assign, name)
+                    self.assertIsInstance(row.value, ast.Attribute, name)
+
+    def test_strings_have_no_barred_signs(self):
+        for name, tree in trees():
+            for node in ast.walk(tree):
+                if isinstance(node, ast.Constant) and isinstance(node.value, str):
+                    self.assertNotIn("%", node.value, name)
+                    self.assertNotIn("__", node.value, name)
 
     def test_sets_stand_in_sorted_or_len_alone(self):
         for name, tree in trees():

@@ -4,12 +4,14 @@ import inspect
 from copy import deepcopy
 from unittest import main
 
-from cardpanel import (alike, books, chances, errors, fewest, heads, heats, implied, keepoffs, leaving, panels, several,
-                       spans, tables, takings, together)
+from cardpanel import (alike, books, chances, errors, fewest, heads, heats, implied, keepoffs, leaving, live, panels,
+                       scripts, several, spans, tables, takings, texts, together, watched)
 from cardpanel.books import Book
-from cardpanel.errors import (InvalidBook, InvalidChances, InvalidCount, InvalidEntries, InvalidEntry, InvalidField,
-                              InvalidLine, InvalidLot, InvalidLots, InvalidPanel, InvalidRow, InvalidRows,
-                              InvalidStewards, InvalidTable, InvalidTree, Unlike, UnknownEntry)
+from cardpanel.errors import (Clash, InvalidBook, InvalidChances, InvalidCount, InvalidEntries, InvalidEntry,
+                              InvalidField, InvalidLine, InvalidLive, InvalidLog, InvalidLot, InvalidLots, InvalidPanel,
+                              InvalidRounds, InvalidRow, InvalidRows, InvalidScript, InvalidStewards, InvalidTable,
+                              InvalidText, InvalidTree, Unlike, UnknownEntry)
+from cardpanel.live import LiveShow
 from cardpanel.panels import Panel
 from support import Case, big_names, big_panel
 
@@ -63,12 +65,28 @@ INTERFACE = {
               "all_follow(one, other)", "same_book(one, other)", "parting_panel(one, other)",
               "check_parting_panel(one, other, value)", "needless_lines(book)", "lean_book(book)", "book_of(panel)",
               "greatest_lots(book)", "least_book(panel)"],
+    watched: ["book_of_rounds(entries, rounds)", "fits(entries, rounds)", "fitting_panel(entries, rounds)",
+              "is_fitting_panel(entries, rounds, value)", "why_none_fits(entries, rounds)",
+              "least_clashes(entries, rounds)", "verdict(entries, rounds, field)",
+              "open_panels(entries, rounds, field, entry)", "are_open_panels(entries, rounds, field, entry, value)",
+              "worth_watching(entries, rounds, fields)"],
+    live: ["replayed(panel, log)", "alike_shows(one, other)", "same_shown(one, other)", "parting_changes(one, other)",
+           "parting_puts(one, other)", "check_parting(one, other, value)"],
+    scripts: ["play(show, script)", "script_text(script)", "read_script(text)", "said_text(said)",
+              "refused(panel, script)", "same_end(panel, one, other)", "same_cards_behind(panel, one, other)",
+              "trimmed(panel, script)"],
+    texts: ["names_text(names)", "panel_text(panel)", "line_text(line)", "book_text(book)", "rounds_text(rounds)",
+            "read_names(text)", "read_panel(text)", "read_line(text)", "read_book(text)", "read_rounds(text)"],
 }
 METHODS = {
     Panel: ["entries(self)", "rows(self)", "__len__(self)", "with_row(self, row)", "without_row(self, at)",
             "struck(self, lot)", "renamed(self, names)", "__eq__(self, other)", "__init__(self, entries, rows)"],
     Book: ["entries(self)", "lines(self)", "with_line(self, line)", "without_line(self, line)", "__eq__(self, other)",
            "__init__(self, entries, lines)"],
+    LiveShow: ["panel(self)", "table(self)", "__len__(self)", "cards(self)", "put(self, entry)", "take(self, entry)",
+               "sit(self, row)", "leave(self, at)", "exchange(self, at, place)", "log(self)", "undo(self)",
+               "redo(self)", "trial(self)", "attempt(self, action)", "copy(self)", "is_calm(self, at, place)",
+               "__init__(self, panel)"],
 }
 
 
@@ -109,7 +127,59 @@ def calls():
         (together.behind, [show(), inn()]), (together.instead, [show(), "b", inn()]),
         (together.as_one, [together.instead(show(), "b", inn()), ["x", "y"], "b"]),
         (together.is_as_one, [together.instead(show(), "b", inn()), ["x", "y"], "b", (show(), inn())]),
-    ] + calls_of_chances_and_several() + calls_of_books()
+    ] + calls_of_chances_and_several() + calls_of_books() + calls_of_watched_and_live() + calls_of_scripts_and_texts()
+
+
+def rounds():
+    return [(["a", "b"], ["a"]), (["b", "c", "d"], ["b", "d"]), (["a", "b"], ["a"])]
+
+
+def clash():
+    return [(["a", "b"], ["b"]), (["a", "b"], ["a"])]
+
+
+def changes():
+    return [("put", "b"), ("sit", ["d", "a", "b", "c"]), ("put", "a"), ("exchange", 0, 1), ("leave", 2), ("take", "b")]
+
+
+def on_stage(many=6):
+    return live.replayed(show(), changes()[:many])
+
+
+def calls_of_watched_and_live():
+    names, field = ["d", "a", "b", "c"], ["a", "c", "d"]
+    return [
+        (watched.book_of_rounds, [names[:], rounds()]), (watched.fits, [names[:], rounds()]),
+        (watched.fitting_panel, [names[:], rounds()]), (watched.is_fitting_panel, [names[:], rounds(), show()]),
+        (watched.why_none_fits, [names[:], clash()]), (watched.least_clashes, [names[:], clash()]),
+        (watched.verdict, [names[:], rounds(), field[:]]), (watched.open_panels, [names[:], rounds(), field[:], "c"]),
+        (watched.are_open_panels, [names[:], rounds(), field[:], "c", (show(), late())]),
+        (watched.worth_watching, [names[:], rounds(), [field[:], ["a", "b"], field[:]]]),
+        (LiveShow.panel, [on_stage()]), (LiveShow.table, [on_stage()]), (LiveShow.cards, [on_stage()]),
+        (LiveShow.log, [on_stage()]), (LiveShow.is_calm, [on_stage(), 0, 1]),
+        (LiveShow.attempt, [on_stage(), LiveShow.log]), (live.alike_shows, [on_stage(), on_stage(5)]),
+        (live.same_shown, [on_stage(), on_stage(5)]), (live.parting_changes, [on_stage(3), on_stage(4)]),
+        (live.parting_changes, [on_stage(1), on_stage(2)]), (live.parting_puts, [on_stage(3), on_stage(4)]),
+        (live.check_parting, [on_stage(3), on_stage(4), [("put", "d"), ("take", "a"), ("put", "c")]]),
+    ]
+
+
+def script():
+    return [("put", "b"), ("sit", ["d", "a", "b", "c"]), ("try", [("sit", ["b"]), ("undo",)]), ("cards",), ("leave", 0)]
+
+
+def calls_of_scripts_and_texts():
+    said = [("done",), ("cards", ["a", "b"]), ("tried", [("refused", "LastRow"), ("table", [])])]
+    return [
+        (scripts.script_text, [script()]), (scripts.read_script, [scripts.script_text(script())]),
+        (scripts.said_text, [said]), (scripts.refused, [show(), script()]),
+        (scripts.same_end, [show(), script(), script()[:2]]),
+        (scripts.same_cards_behind, [show(), script(), script()[:2]]), (scripts.trimmed, [show(), script()]),
+        (texts.names_text, [["b", "a", "b"]]), (texts.panel_text, [show()]), (texts.line_text, [lines_of_book()[1]]),
+        (texts.book_text, [book()]), (texts.rounds_text, [rounds()]), (texts.read_names, ["b, a, b"]),
+        (texts.read_panel, [texts.panel_text(show())]), (texts.read_line, ["off a by b, c"]),
+        (texts.read_book, [texts.book_text(book())]), (texts.read_rounds, [texts.rounds_text(rounds())]),
+    ]
 
 
 def weather():
@@ -228,6 +298,11 @@ def calls_of_spans_and_fewest():
     ]
 
 
+def compared(passed):
+    """Arguments such that they can be compared, also live shows."""
+    return [[each.log(), each.table(), each.panel()] if isinstance(each, LiveShow) else each for each in passed]
+
+
 def spoil(value):
     """Changes all lists and dictionaries in a value, however deep they are in it."""
     inner = list(value.values()) if isinstance(value, dict) else value
@@ -250,7 +325,8 @@ class Interface(Case):
                 self.assertEqual(function.__module__, module.__name__)
 
     def test_methods_have_the_arguments_and_stand_in_the_class(self):
-        self.assertEqual([Panel.__module__, Book.__module__], ["cardpanel.panels", "cardpanel.books"])
+        self.assertEqual([Panel.__module__, Book.__module__, LiveShow.__module__],
+                         ["cardpanel.panels", "cardpanel.books", "cardpanel.live"])
         for each, lines in METHODS.items():
             for line in lines:
                 method = vars(each)[line.split("(")[0]]
@@ -272,7 +348,7 @@ class SameAnswers(Case):
     def test_arguments_are_not_changed(self):
         for (function, passed), (_, again) in zip(calls(), calls()):
             function(*passed)
-            self.assertEqual(passed, again)
+            self.assertEqual(compared(passed), compared(again))
 
     def test_returned_lists_may_be_changed(self):
         for function, passed in calls():
@@ -285,13 +361,15 @@ class SameAnswers(Case):
                     spoil([each.rows(), each.entries()])
                 if isinstance(each, Book):
                     spoil([each.lines(), each.entries()])
+                if isinstance(each, LiveShow):
+                    spoil([each.log(), each.table(), each.cards(), each.panel().rows()])
             self.assertEqual(function(*passed), kept)
 
     def test_passed_lists_may_be_changed(self):
         for function, passed in calls():
             found = function(*passed)
             kept = deepcopy(found)
-            spoil([each for each in passed if not isinstance(each, (Panel, Book))])
+            spoil([each for each in passed if not isinstance(each, (Panel, Book, LiveShow))])
             self.assertEqual(found, kept)
 
     def test_lists_passed_to_panels_may_be_changed(self):
@@ -390,6 +468,23 @@ class FirstWrongArgument(Case):
         self.raises(InvalidBook, bad, implied.same_book, book(), bad)
         other = Book(["a"], [])
         self.raises(Unlike, other, implied.check_parting_panel, book(), other, None)
+
+    def test_in_the_order_of_the_parameters_of_rounds_shows_scripts_and_texts(self):
+        panel, bad, names, wrong = show(), ["no panel"], ["a", "b", "c"], clash()
+        self.raises(InvalidEntries, panel, watched.are_open_panels, panel, bad, bad, bad, bad)
+        self.raises(InvalidRounds, bad, watched.are_open_panels, names, bad, [], 5, bad)
+        self.raises(Clash, wrong, watched.are_open_panels, names, wrong, [], 5, bad)
+        self.raises(InvalidField, bad, watched.are_open_panels, names, rounds()[:1], bad, 5, bad)
+        self.raises(UnknownEntry, bad, watched.are_open_panels, names, rounds()[:1], ["a"], bad, None)
+        self.raises(Clash, wrong, watched.worth_watching, names, wrong, bad)
+        self.raises(InvalidLive, panel, live.check_parting, panel, bad, bad)
+        self.raises(InvalidLive, bad, live.check_parting, on_stage(), bad, bad)
+        self.raises(InvalidPanel, bad, live.replayed, bad, 5)
+        self.raises(InvalidLog, bad, live.replayed, panel, bad)
+        self.raises(InvalidLive, panel, scripts.play, panel, bad)
+        self.raises(InvalidScript, bad, scripts.play, on_stage(), bad)
+        self.raises(InvalidScript, bad, scripts.same_end, panel, bad, panel)
+        self.raises(InvalidText, bad, texts.read_book, bad)
 
     def test_also_when_passed_by_name(self):
         self.raises(InvalidCount, -1, panels.named, field=[], at=-1, panel=show())
