@@ -40,6 +40,11 @@ def are_unlike_names(value):
     return all([is_name(name) for name in value]) and len(set(value)) == len(value)
 
 
+def is_lot_of_names(value):
+    """Returns whether any object is an ascending list of names."""
+    return isinstance(value, list) and all([is_name(name) for name in value]) and is_ascending(value)
+
+
 def is_lot(entries, value):
     """Returns whether any object is an ascending list, perhaps empty, of entries."""
     if not isinstance(value, list):

@@ -1,11 +1,10 @@
 """Lots that keep an entry off: it gets no card wherever all of the lot is there."""
 
 from cardpanel.basics import bits_of
-from cardpanel.basics import is_ascending
 from cardpanel.basics import is_count
 from cardpanel.basics import is_field
 from cardpanel.basics import is_lot
-from cardpanel.basics import is_name
+from cardpanel.basics import is_lot_of_names
 from cardpanel.basics import mask_of
 from cardpanel.errors import InvalidCount
 from cardpanel.errors import InvalidField
@@ -53,11 +52,6 @@ def least_keepoffs(panel, entry):
     """Returns the ascending list of the lots that keep an entry off, while no lot with less of their entries does."""
     check_panel_and_entry(panel, entry)
     return least_meeting(least_lots(panel, entry))
-
-
-def is_lot_of_names(value):
-    """Returns whether any object is an ascending list of names."""
-    return isinstance(value, list) and all([is_name(name) for name in value]) and is_ascending(value)
 
 
 def least_meeting(lots):

@@ -7,7 +7,7 @@ from cardpanel.errors import InvalidEntries, InvalidField, InvalidLot, InvalidPa
 from cardpanel.fewest import is_fewest
 from cardpanel.panels import Panel
 from cardpanel.tables import (changed, flaw, is_flaw, is_odd_fields, is_table, odd_fields, panel_for, table_of)
-from support import ABC, Case, all_panels, all_rows, big_panel, fields, odd_objects, told_cards
+from support import ABC, Case, all_panels, all_rows, big_panel, fields, odd_objects, told_cards, within_lines
 
 
 def pair():
@@ -136,6 +136,103 @@ class IsTable(Case):
     def test_wrong_entries(self):
         for entries in [None, [], ("a",), ["a", "a"], ["A"], "abc", {"a": 1}, [1], [["a"]], True]:
             self.raises(InvalidEntries, entries, is_table, entries, table_of(pair()))
+
+
+def five():
+    """The table of a panel of five entries."""
+    return table_of(Panel(["ale", "bun", "cob", "egg", "jam"], [
+        ["ale", "bun", "cob", "egg", "jam"], ["jam", "egg", "ale", "cob", "bun"],
+        ["cob", "jam", "bun", "ale", "egg"]]))
+
+
+def wrong_tables_of_five():
+    """What is nearly a table of five entries, with something wrong, most of it near the end."""
+    table = five()
+    wrong = [table[:-2] + [table[-1], table[-2]], table[:-1] + table[-2:-1], table + table[-1:], table + table[:1],
+             table[1:], table[:-1], table[:20] + table[21:], table[:1] + table, table[:-1] + [list(table[-1])],
+             table[:-1] + [table[-1] + (None,)], table[:-1] + [table[-1][:1]], tuple(table), table[1:] + table[:1],
+             table + [(["rye"], ["rye"])], table[:-1] + [(["rye"], ["rye"])], table[:-1] + [None], [table]]
+    for at in [0, 3, 4, 15, 17, 27, 28, 30]:
+        field, given = table[at]
+        for line in [(tuple(field), given), (field, tuple(given)), (field, given + ["jam"]), (field, []), ([], given),
+                     (field, given + given), (field[::-1], given) if len(field) > 1 else ([[name] for name in field], given),
+                     (field, given[::-1]) if len(given) > 1 else (field, ["zz"]), (field, ["jam", "ale"]),
+                     (field + ["A"], given), (field, ["A"]), (field, [None]), (field, None), (None, given),
+                     (field, "".join(given)), (field, {name: 1 for name in given}), (field, [True]), (field, [given]),
+                     (field[:-1] + ["rye"], given), (field, [field[-1], field[0]])]:
+            wrong.append(table[:at] + [line] + table[at + 1:])
+    return wrong
+
+
+class Five(Case):
+    """Tables of five entries: every pair of fields, and everything that is nearly such a table."""
+
+    def check(self, table):
+        fields_of, cards = [field for field, _ in table], {tuple(field): given for field, given in table}
+        flaws, odd = told_flaws(table), told_odd_fields(table)
+        told_moved = [(one, other) for one in fields_of for other in fields_of if is_flaw(table, ("moved", one, other))]
+        self.same(told_moved, [flaw_found[1:] for flaw_found in flaws if flaw_found[0] == "moved"])
+        self.same([(one, other) for one in fields_of for other in fields_of if is_odd_fields(table, (one, other))], odd)
+        lost = [("lost", one, other, name) for one in fields_of for other in fields_of for name in cards[tuple(one)]]
+        self.same([value for value in lost if is_flaw(table, value)],
+                  [flaw_found for flaw_found in flaws if flaw_found[0] == "lost"])
+        none = [("lost", one, other, name) for one in fields_of[::3] for other in fields_of[::2]
+                for name in fields_of[4] if name not in cards[tuple(one)]]
+        self.same([value for value in none if is_flaw(table, value)], [])
+        found, pair_found = flaw(table), odd_fields(table)
+        self.same([found is None, pair_found is None, panel_for(table) is None], [flaws == [], flaws == [], flaws != []])
+        if flaws:
+            self.assertTrue(found in flaws and pair_found in odd)
+        else:
+            self.same([table_of(panel_for(table)) == table, odd], [True, []])
+
+    def test_every_pair_of_fields(self):
+        table = five()
+        self.check(table)
+        for field, given in [(["egg", "jam"], ["egg"]), (["ale", "jam"], ["jam"]), (["bun", "cob", "egg"], ["egg"]),
+                             (["ale", "bun", "cob", "egg", "jam"], ["bun"]), (["jam"], ["jam"])]:
+            self.check(changed(table, field, given))
+
+    def test_one_cell_changed(self):
+        table = five()
+        for field, given in table:
+            for cards in fields(field)[::3]:
+                other = changed(table, field, cards)
+                self.same(is_table(["jam", "egg", "cob", "bun", "ale"], other), True)
+                self.same([flaw(other) is None, odd_fields(other) is None],
+                          [told_flaws(other) == [], told_odd_fields(other) == []])
+
+    def test_wrong_tables(self):
+        for table in wrong_tables_of_five():
+            self.same(is_table(["ale", "bun", "cob", "egg", "jam"], table), False)
+            for call, after in [(changed, [["ale"], ["ale"]]), (flaw, []), (is_flaw, [("moved", ["ale"], ["ale"])]),
+                                (panel_for, []), (odd_fields, []), (is_odd_fields, [(["ale"], ["bun"])])]:
+                self.raises(InvalidTable, table, call, table, *after)
+
+    def test_a_table_is_answered_as_it_stands(self):
+        table, value = five(), ("moved", ["ale", "bun", "cob", "egg", "jam"], ["ale", "jam"])
+        first = [is_flaw(table, value), flaw(table)]
+        table[4][1].pop()
+        again = [is_flaw(table, value), flaw(table) is None]
+        self.assertEqual([first[1] is None, again[1]], [True, False])
+        table[-1][1].append("ale")
+        self.raises(InvalidTable, table, is_flaw, table, value)
+        self.raises(InvalidTable, table, odd_fields, table)
+
+    def test_each_call_looks_at_the_table_once(self):
+        # A count of lines, not a time: as much for each call as the whole table takes a few times over.
+        table = five()
+        entries = table[4][0]
+        bent_late = table[:-2] + [table[-1], table[-2]]
+        within_lines(450, is_table, entries, table)
+        for call, after in [(is_flaw, [("lost", entries, ["ale"], "ale")]), (is_odd_fields, [(["ale"], entries)]),
+                            (changed, [["ale", "jam"], ["jam"]])]:
+            within_lines(700, call, table, *after)
+        for call in (flaw, odd_fields):
+            within_lines(1300, call, table)
+        within_lines(4000, panel_for, table)
+        with self.assertRaises(InvalidTable):
+            within_lines(500, flaw, bent_late)
 
 
 class Changed(Case):
