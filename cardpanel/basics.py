@@ -137,7 +137,7 @@ def number_of_lot(bits, value):
 
 def lot_of(bits, mask):
     """Returns the lot that a number stands for."""
-    return [name for name in bits if bits[name] & mask]
+    return [name for name, bit in bits.items() if bit & mask]
 
 
 def bits_in(mask):
@@ -189,6 +189,10 @@ def least_masks(masks):
     least = []
     # A lot within another one has the lesser number, so it has come ahead of it.
     for mask in sorted(set(masks)):
-        if not holds_one(mask, least):
+        outside = ~mask
+        for lesser in least:
+            if not lesser & outside:
+                break
+        else:
             least.append(mask)
     return least

@@ -1,7 +1,8 @@
 """Heads that lie within one another: chains of them, and heads apart.
 
-Here a head is a tuple of a lot, as a number, and the bit of its entry. Heads
-stand in ascending order, so that each one lies within later ones only.
+Here heads are told by their positions in a list, and what they lie within by
+numbers: for each head one whose bits are the positions of the heads that it
+lies within.
 
 Each head stands twice, as one that lies within another one and as one within
 which another one lies, and as many of the first as can be are paired with
@@ -13,16 +14,35 @@ from cardpanel.basics import is_within
 
 
 def lies_within(head, other):
-    """Returns whether a head lies within another one."""
+    """Returns whether a head lies within another one, both told by the numbers of the lot and of the entry."""
     lot, bit = head
     return is_within(lot | bit, other[0])
 
 
 def numbers_above(found):
-    """Returns, for each head, a number whose bits tell the positions of those that it lies within."""
-    lots = [lot for lot, _ in found]
-    whole = [lot | bit for lot, bit in found]
-    return [sum([1 << at for at, lot in enumerate(lots) if not step & ~lot]) for step in whole]
+    """Returns, for each of some heads, told by the numbers of lot and entry, what it lies within."""
+    holding = {}
+    for at, (lot, _) in enumerate(found):
+        for bit in bits_in(lot):
+            holding[bit] = holding.get(bit, 0) | 1 << at
+    above = []
+    for lot, entry in found:
+        common = holding.get(entry, 0)
+        for bit in bits_in(lot):
+            common = common & holding[bit]
+        above.append(common)
+    return above
+
+
+def first_pairs(above):
+    """Returns some pairs, perhaps too few: a dictionary from lower heads to upper ones."""
+    after, free = {}, (1 << len(above)) - 1
+    for low, highs in enumerate(above):
+        if highs & free:
+            bit = bits_in(highs & free)[0]
+            after[low] = bit.bit_length() - 1
+            free = free ^ bit
+    return after
 
 
 def reached_from(above, below, starts):
@@ -44,19 +64,6 @@ def reached_from(above, below, starts):
     return came
 
 
-def first_pairs(above):
-    """Returns pairs, perhaps too few, as two dictionaries, from lower heads to upper ones and back."""
-    after, below = {}, {}
-    free = (1 << len(above)) - 1
-    for low, highs in enumerate(above):
-        if highs & free:
-            bit = bits_in(highs & free)[0]
-            after[low] = bit.bit_length() - 1
-            below[after[low]] = low
-            free = free ^ bit
-    return after, below
-
-
 def add_pair(after, below, came, high):
     """Pairs one more upper head, by giving each lower head on the way to it the next one on the way."""
     while high is not None:
@@ -67,34 +74,36 @@ def add_pair(after, below, came, high):
         high = left
 
 
-def paired(found):
-    """Returns as many pairs as can be, both ways, and whom the lower heads that have no pair reach then."""
-    above = numbers_above(found)
-    after, below = first_pairs(above)
+def paired(above, pairs):
+    """Returns as many pairs as can be, made out of some, both ways, and whom lower heads without a pair reach then."""
+    after, below = dict(pairs), {high: low for low, high in pairs.items()}
     while True:
-        came = reached_from(above, below, [low for low in range(len(found)) if low not in after])
+        came = reached_from(above, below, [low for low in range(len(above)) if low not in after])
         free = [high for high in came if high not in below]
         if not free:
             return after, below, came
         add_pair(after, below, came, free[0])
 
 
-def fewest_chains(found):
-    """Returns the fewest lists of heads, each within the next one, such that each head stands in just one."""
-    after, below, _ = paired(found)
+def fewest_chains(above, pairs):
+    """Returns the fewest lists of heads, each within the next one, such that each head stands in just one.
+
+    The pairs are some that are known, as `first_pairs` tells them.
+    """
+    after, below, _ = paired(above, pairs)
     chains = []
-    for first in [at for at in range(len(found)) if at not in below]:
+    for first in [at for at in range(len(above)) if at not in below]:
         chain = [first]
         while chain[-1] in after:
             chain.append(after[chain[-1]])
-        chains.append([found[at] for at in chain])
+        chains.append(chain)
     return chains
 
 
-def most_apart(found):
+def most_apart(above, pairs):
     """Returns as many heads as can be none of which lies within another one."""
-    after, _, came = paired(found)
+    after, _, came = paired(above, pairs)
     # What is reached as a lower head lies within nothing but what is reached as an upper one, and each chain has
     # just one head that is reached as a lower one alone: the first of those that are reached as lower ones.
-    reached = [at for at in range(len(found)) if at not in after or after[at] in came]
-    return [found[at] for at in reached if at not in came]
+    reached = [at for at in range(len(above)) if at not in after or after[at] in came]
+    return [at for at in reached if at not in came]

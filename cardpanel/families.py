@@ -3,6 +3,8 @@
 from cardpanel.basics import bits_of
 from cardpanel.basics import lot_of
 from cardpanel.chaining import fewest_chains
+from cardpanel.chaining import first_pairs
+from cardpanel.chaining import numbers_above
 from cardpanel.heads import taken_in_turn
 
 
@@ -21,5 +23,7 @@ def row_of_chain(masks, chain):
 def fewest_rows_of(masks):
     """Returns as few rows as can be with just these least ahead lots, which are numbers and all built."""
     bits = bits_of(list(masks))
-    numbers = sorted([(lot, bits[name]) for name, lots in masks.items() for lot in lots])
-    return [row_of_chain(masks, chain) for chain in fewest_chains(numbers)]
+    found = sorted([(lot, bits[name]) for name, lots in masks.items() for lot in lots])
+    above = numbers_above(found)
+    chains = fewest_chains(above, first_pairs(above))
+    return [row_of_chain(masks, [found[at] for at in chain]) for chain in chains]

@@ -8,8 +8,8 @@ from cardpanel.basics import check_position
 from cardpanel.basics import is_ascending
 from cardpanel.basics import least_masks
 from cardpanel.basics import lot_of
-from cardpanel.basics import mask_of
 from cardpanel.basics import masks_ahead
+from cardpanel.basics import number_of_lot
 from cardpanel.basics import size_of
 from cardpanel.chaining import fewest_chains
 from cardpanel.chaining import lies_within
@@ -18,8 +18,8 @@ from cardpanel.errors import InvalidLots
 from cardpanel.errors import InvalidPanel
 from cardpanel.errors import InvalidRows
 from cardpanel.errors import LastRow
-from cardpanel.heads import heads
-from cardpanel.heads import lots_of
+from cardpanel.heads import least_ahead
+from cardpanel.heads import least_by
 from cardpanel.meeting import signed_unions
 from cardpanel.panels import Panel
 from cardpanel.panels import ahead_masks
@@ -28,48 +28,52 @@ from cardpanel.panels import check_panels
 from cardpanel.rungs import each_adds
 from cardpanel.rungs import next_rung
 from cardpanel.rungs import row_through
+from cardpanel.seats import Seats
 from cardpanel.steps import is_row_of_takings
 from cardpanel.steps import takeable_lots
 
 
-def number_of(bits, head):
-    """Returns a head as the numbers of its lot and of its entry."""
-    lot, name = head
-    return mask_of(bits, lot), bits[name]
+def number_of_head(bits, least, value):
+    """Returns a head, of a panel with these least ahead lots, as the numbers of its lot and its entry.
+
+    Returns None for any other object.
+    """
+    if not isinstance(value, tuple) or len(value) != 2:
+        return None
+    lot, name = value
+    if not isinstance(name, str) or name not in least:
+        return None
+    mask = number_of_lot(bits, lot)
+    return (mask, bits[name]) if mask in least[name] else None
 
 
-def head_of(bits, number):
-    """Returns the head that is told by the numbers of its lot and of its entry."""
-    lot, bit = number
-    return lot_of(bits, lot), lot_of(bits, bit)[0]
+def numbers_of_heads(bits, least, value):
+    """Returns a list, perhaps empty, of heads of a panel as numbers, None for any other object."""
+    if not isinstance(value, list):
+        return None
+    numbers = [number_of_head(bits, least, head) for head in value]
+    return None if None in numbers else numbers
 
 
-def numbers_of(panel, given):
-    """Returns some heads of a panel as numbers, in the ascending order of these."""
+def seats_in(panel):
+    """Returns the heads of a panel where they stand in the rows."""
+    stewards = ahead_masks(panel)
+    return Seats(stewards, least_by(stewards))
+
+
+def as_heads(panel, found):
+    """Returns the list of some heads of a panel that are told by the number of the lot and the entry."""
     bits = bits_of(panel.entries())
-    return sorted([number_of(bits, head) for head in given])
+    return [(lot_of(bits, mask), name) for mask, name in found]
 
 
-def as_heads(panel, numbers):
-    """Returns the list of the heads of a panel that some numbers tell."""
-    bits = bits_of(panel.entries())
-    return [head_of(bits, number) for number in numbers]
-
-
-def are_heads(lots, value):
-    """Returns whether any object is a list, perhaps empty, of heads of a panel with these least ahead lots."""
-    return isinstance(value, list) and all([is_head(lots, head) for head in value])
-
-
-def is_head(lots, value):
-    """Returns whether any object is a head of a panel with these least ahead lots."""
-    if not isinstance(value, tuple) or len(value) != 2 or not isinstance(value[1], str):
-        return False
-    return value[1] in lots and value[0] in lots[value[1]]
+def chains_in(seats):
+    """Returns as few chains as can be of the heads in some rows, each head told by the number of its lot."""
+    return [[seats.found[at] for at in chain] for chain in fewest_chains(seats.above, seats.after)]
 
 
 def rows_along(panel, many):
-    """Returns the rows of some chains of heads of a panel."""
+    """Returns the rows of some chains of heads of a panel, each head told by the number of its lot."""
     bits, rows, stewards = bits_of(panel.entries()), panel.rows(), ahead_masks(panel)
     return [row_along(bits, rows, stewards, chain) for chain in many]
 
@@ -77,22 +81,27 @@ def rows_along(panel, many):
 def row_along(bits, rows, stewards, chain):
     """Returns the row of a chain of heads, where each follows the first steward who has the next head."""
     found, taken, giver = [], 0, []
-    for lot, name in chain:
-        mask = mask_of(bits, lot)
-        giver = [row for row, masks in zip(rows, stewards) if masks[name] == mask][0]
-        found = found + [other for other in giver if bits[other] & mask & ~taken] + [name]
+    for mask, name in chain:
+        at = 0
+        while stewards[at][name] != mask:
+            at = at + 1
+        giver = rows[at]
+        if mask & ~taken:
+            found = found + [other for other in giver[:giver.index(name)] if not bits[other] & taken]
+        found.append(name)
         taken = mask | bits[name]
     return found + [other for other in giver if not bits[other] & taken]
 
 
 def fewest_rows(panel):
     """Returns as few rows as can be that give the cards of a panel on all fields."""
-    return rows_along(panel, chains(panel))
+    check_panel(panel)
+    return rows_along(panel, chains_in(seats_in(panel)))
 
 
-def fewest_for(panel, given):
-    """Returns how many rows it takes, at least, to have some heads of a panel."""
-    return len(fewest_chains(numbers_of(panel, given)))
+def fewest_for(seats):
+    """Returns how many rows it takes, at least, to have the heads in some rows."""
+    return len(fewest_chains(seats.above, seats.after))
 
 
 def gives_the_cards(panel, rows):
@@ -105,22 +114,21 @@ def is_fewest(panel, value):
     check_panel(panel)
     if not are_rows(panel.entries(), value) or not gives_the_cards(panel, value):
         return False
-    return len(value) == fewest_for(panel, heads(panel))
+    return len(value) == fewest_for(seats_in(panel))
 
 
 def apart_heads(panel):
     """Returns an ascending list of as many heads as can be none of which lies within another one."""
     check_panel(panel)
-    return sorted(as_heads(panel, most_apart(numbers_of(panel, heads(panel)))))
+    seats = seats_in(panel)
+    return sorted(as_heads(panel, [seats.found[at] for at in most_apart(seats.above, seats.after)]))
 
 
 def is_apart(panel, value):
     """Returns whether any object is an ascending list of as many heads as can be, none within another one."""
     check_panel(panel)
-    if not are_heads(lots_of(panel), value) or not is_ascending(value):
-        return False
-    numbers = numbers_of(panel, value)
-    if len(numbers) != fewest_for(panel, heads(panel)):
+    numbers = numbers_of_heads(bits_of(panel.entries()), least_ahead(panel), value)
+    if numbers is None or not is_ascending(value) or len(numbers) != fewest_for(seats_in(panel)):
         return False
     return not any([lies_within(one, other) for one in numbers for other in numbers])
 
@@ -128,34 +136,39 @@ def is_apart(panel, value):
 def chains(panel):
     """Returns a list of chains, as few as can be, such that each head of a panel stands in just one of them."""
     check_panel(panel)
-    return [as_heads(panel, chain) for chain in fewest_chains(numbers_of(panel, heads(panel)))]
+    return [as_heads(panel, chain) for chain in chains_in(seats_in(panel))]
 
 
-def is_chain(lots, value):
-    """Returns whether any object is a list, not empty, of heads, each of which lies within the next one."""
-    if not are_heads(lots, value) or not value:
-        return False
-    bits = bits_of(list(lots))
-    numbers = [number_of(bits, head) for head in value]
-    return all([lies_within(low, high) for low, high in zip(numbers, numbers[1:])])
+def number_of_chain(bits, least, value):
+    """Returns a chain of heads of a panel with these least ahead lots as numbers, None for any other object."""
+    numbers = numbers_of_heads(bits, least, value)
+    if not numbers or not all([lies_within(low, high) for low, high in zip(numbers, numbers[1:])]):
+        return None
+    return numbers
 
 
 def are_chains(panel, value):
     """Returns whether any object is a list of chains, as few as can be, with each head of a panel in just one."""
     check_panel(panel)
-    lots = lots_of(panel)
-    if not isinstance(value, list) or not all([is_chain(lots, chain) for chain in value]):
+    if not isinstance(value, list):
         return False
-    every = heads(panel)
-    return sorted([head for chain in value for head in chain]) == every and len(value) == fewest_for(panel, every)
+    bits, least = bits_of(panel.entries()), least_ahead(panel)
+    numbers = [number_of_chain(bits, least, chain) for chain in value]
+    if None in numbers:
+        return False
+    heads_told = sorted([head for chain in numbers for head in chain])
+    every = sorted([(mask, bits[name]) for name, masks in least.items() for mask in masks])
+    return heads_told == every and len(value) == fewest_for(seats_in(panel))
 
 
 def chain_row(panel, chain):
     """Returns the row of a chain, which has all heads of it and adds no card on any field."""
     check_panel(panel)
-    if not is_chain(lots_of(panel), chain):
+    bits = bits_of(panel.entries())
+    numbers = number_of_chain(bits, least_ahead(panel), chain)
+    if numbers is None:
         raise InvalidLots(chain)
-    return rows_along(panel, [chain])[0]
+    return rows_along(panel, [[(mask, name) for (mask, _), (_, name) in zip(numbers, chain)]])[0]
 
 
 def check_kept(panel, kept):
@@ -165,41 +178,58 @@ def check_kept(panel, kept):
         raise InvalidRows(kept)
 
 
+def missing_lots(panel, kept):
+    """Returns a dictionary from the entries to those of their least ahead lots, as numbers, that no one of rows has."""
+    bits = bits_of(panel.entries())
+    shown = [masks_ahead(bits, row) for row in kept]
+    found = {}
+    for name, masks in least_ahead(panel).items():
+        had = [told[name] for told in shown]
+        found[name] = [mask for mask in masks if mask not in had]
+    return found
+
+
 def missing_heads(panel, kept):
     """Returns the ascending list of the heads of a panel that no one of some rows has."""
     check_kept(panel, kept)
-    bits = bits_of(panel.entries())
-    shown = [masks_ahead(bits, row) for row in kept]
-    had = {name: [masks[name] for masks in shown] for name in bits}
-    return [(lot, name) for lot, name in heads(panel) if mask_of(bits, lot) not in had[name]]
+    missing = missing_lots(panel, kept)
+    return sorted(as_heads(panel, [(mask, name) for name, masks in missing.items() for mask in masks]))
 
 
 def rows_more(panel, kept):
     """Returns as few rows as can be that give, with the kept ones, the cards of a panel on all fields."""
-    missing = missing_heads(panel, kept)
-    return rows_along(panel, [as_heads(panel, chain) for chain in fewest_chains(numbers_of(panel, missing))])
+    check_kept(panel, kept)
+    return rows_along(panel, chains_in(Seats(ahead_masks(panel), missing_lots(panel, kept))))
 
 
 def is_rows_more(panel, kept, value):
     """Returns whether any object is a list of as few rows as can be that give the cards with the kept ones."""
-    missing = missing_heads(panel, kept)
+    check_kept(panel, kept)
     if not are_rows(panel.entries(), value) or not gives_the_cards(panel, kept + value):
         return False
-    return len(value) == fewest_for(panel, missing)
+    return len(value) == fewest_for(Seats(ahead_masks(panel), missing_lots(panel, kept)))
 
 
 def holders(panel):
-    """Returns, for each head of a panel in ascending order, the list of the positions of the stewards who have it."""
-    bits, stewards = bits_of(panel.entries()), ahead_masks(panel)
-    numbers = [(mask_of(bits, lot), name) for lot, name in heads(panel)]
-    return [[at for at, masks in enumerate(stewards) if masks[name] == lot] for lot, name in numbers]
+    """Returns, for each head of a panel, the list of the positions of the stewards who have it."""
+    stewards = ahead_masks(panel)
+    having = []
+    for name, least in least_by(stewards).items():
+        masks = [told[name] for told in stewards]
+        having = having + [[at for at, mask in enumerate(masks) if mask == lot] for lot in least]
+    return having
 
 
 def own_heads(panel, at):
     """Returns the ascending list of the heads that, of all stewards, just the one at a position has."""
     check_panel(panel)
     check_position(len(panel), at)
-    return [head for head, having in zip(heads(panel), holders(panel)) if having == [at]]
+    stewards, own = ahead_masks(panel), []
+    for name, least in least_by(stewards).items():
+        mask = stewards[at][name]
+        if mask in least and [told[name] for told in stewards].count(mask) == 1:
+            own.append((mask, name))
+    return sorted(as_heads(panel, own))
 
 
 def fields_alone(stewards, at, name):

@@ -20,10 +20,14 @@ from cardpanel.panels import ahead_masks
 from cardpanel.panels import check_panel
 
 
+def least_by(stewards):
+    """Returns a dictionary from the entries, ascending, to their least ahead lots, as `ahead_masks` tells all lots."""
+    return {name: least_masks([masks[name] for masks in stewards]) for name in sorted(stewards[0])}
+
+
 def least_ahead(panel):
     """Returns a dictionary from the entries, ascending, to their least ahead lots as numbers."""
-    stewards = ahead_masks(panel)
-    return {name: least_masks([masks[name] for masks in stewards]) for name in panel.entries()}
+    return least_by(ahead_masks(panel))
 
 
 def least_of(panel, entry):

@@ -11,7 +11,7 @@ from cardpanel.fewest import (apart_heads, are_chains, chain_row, chains, fewest
 from cardpanel.heads import heads, lots_of, panel_of, stewards_of
 from cardpanel.panels import Panel
 from support import (ABC, Case, all_panels, all_rows, big_names, big_panel, fields, odd_objects, shuffled,
-                     some_numbers, told_cards, told_table)
+                     some_numbers, told_cards, told_table, within_lines)
 
 NAMES, UP, DOWN = ["a", "b", "c"], ["a", "b", "c"], ["c", "b", "a"]
 FOUR = ["a", "b", "c", "d"]
@@ -296,6 +296,92 @@ class RowsMore(Case):
         self.assertTrue(0 < len(missing) < len(heads(panel)))
         self.same([rows_more(panel, panel.rows()), missing_heads(panel, panel.rows())], [[], []])
         self.same(len(rows_more(panel, [])), len(every))
+
+
+def forty(seed, kind):
+    """A panel of 40 entries and 8 stewards: rows drawn, or ones that share a long beginning, or a long end."""
+    numbers, names = some_numbers(seed), ["wxyz"[at // 10] + "abcdefghij"[at % 10] for at in range(40)]
+    rows = [names if kind != "drawn" else shuffled(numbers, names)]
+    for at in range(7):
+        many = 0 if kind == "drawn" else 2 + 2 * at
+        rows.append(rows[0][:many] + shuffled(numbers, rows[0][many:]))
+    return Panel(names, [row[::-1] for row in rows] if kind == "end" else rows)
+
+
+def big_ones():
+    return [forty(seed, kind) for kind in ("drawn", "beginning", "end") for seed in (1, 2)]
+
+
+class Forty(Case):
+    """Panels of 40 entries and 8 stewards, with some 200 heads."""
+
+    def test_rows_apart_heads_and_chains(self):
+        for panel in big_ones():
+            every = heads(panel)
+            rows, apart, found = fewest_rows(panel), apart_heads(panel), chains(panel)
+            self.same([len(rows), len(found), told_apart(apart), apart == sorted(apart)], [len(apart)] * 2 + [True] * 2)
+            self.assertTrue(alike(Panel(panel.entries(), rows), panel))
+            self.assertTrue(all(head in every for head in apart))
+            self.assertEqual(sorted(head for chain in found for head in chain), every)
+            self.assertTrue(all(told_within(one, other) for chain in found for one, other in zip(chain, chain[1:])))
+            self.same([is_fewest(panel, rows), is_fewest(panel, rows[::-1]), is_apart(panel, apart),
+                       are_chains(panel, found), are_chains(panel, found[::-1]),
+                       is_fewest(panel, [chain_row(panel, chain) for chain in found])], [True] * 6)
+
+    def test_own_heads(self):
+        for panel in big_ones():
+            every = heads(panel)
+            for at in range(8):
+                self.same(own_heads(panel, at), [head for head in every if stewards_of(panel, *head) == [at]])
+            self.same(needless_stewards(panel), [at for at in range(8) if own_heads(panel, at) == []])
+
+    def test_bent_rows(self):
+        for panel in big_ones():
+            rows = fewest_rows(panel)
+            turned = rows[:-1] + [rows[-1][::-1]]
+            exchanged = [rows[0][1:2] + rows[0][:1] + rows[0][2:]] + rows[1:]
+            told = alike(Panel(panel.entries(), exchanged), panel)
+            for value, good in [(rows + rows[:1], False), (rows[:-1] + rows[:1], False), (rows[1:], False),
+                                (rows + [panel.entries()], False), (turned, False), (exchanged, told),
+                                ([tuple(row) for row in rows], False), (rows[:-1] + [rows[-1][:-1]], False)]:
+                self.same(is_fewest(panel, value), good)
+
+    def test_bent_apart_heads(self):
+        for panel in big_ones():
+            apart, every = apart_heads(panel), heads(panel)
+            wrong = [apart[1:], apart[:-1], apart + apart[-1:], apart[::-1], every, apart[:-1] + apart[-2:-1],
+                     [tuple(head) + (None,) for head in apart], [list(head) for head in apart],
+                     [(tuple(lot), entry) for lot, entry in apart]]
+            for value in wrong:
+                self.same(is_apart(panel, value), False)
+            for head in every[::9]:
+                value = sorted(apart[1:] + [head])
+                self.same(is_apart(panel, value), told_apart(value) and head not in apart[1:])
+
+    def test_bent_chains(self):
+        for panel in big_ones():
+            found = chains(panel)
+            long = max(found, key=len)
+            rest = [chain for chain in found if chain != long]
+            head = long[0]
+            moved = [[head] + chain if told_within(head, chain[0]) else chain for chain in rest]
+            self.same(are_chains(panel, moved + [long]), moved == rest)
+            for value in [rest, found + [long], found + [long[:1]], rest + [long[:1] + long[2:]],
+                          rest + [long[1:2] + long[:1] + long[2:]], rest + [long[:2] + long[1:]],
+                          rest + [long[:3], long[3:]], rest + [long[::-1]], found[:-1] + [[]], found + [[]],
+                          rest + [tuple(long)], rest + [long[:-1] + [list(long[-1])]],
+                          rest + [long[:1] + [(long[1][0], "zz")] + long[2:]], [found]]:
+                self.same(are_chains(panel, value), False)
+
+    def test_each_of_them_within_few_lines(self):
+        # A count of lines, not a time: going through all pairs of 200 heads takes more than all of these.
+        for panel in big_ones():
+            rows, apart, found = fewest_rows(panel), apart_heads(panel), chains(panel)
+            for call, after in [(fewest_rows, []), (apart_heads, []), (chains, []), (is_fewest, [rows]),
+                                (is_apart, [apart]), (are_chains, [found]), (own_heads, [3]), (rows_more, [rows[:2]]),
+                                (is_rows_more, [rows[:2], rows[2:]]), (is_apart, [heads(panel)]),
+                                (chain_row, [found[0]]), (missing_heads, [rows[:2]]), (needless_stewards, [])]:
+                within_lines(32000, call, panel, *after)
 
 
 class Stewards(Case):
