@@ -14,8 +14,9 @@ class Seats:
     """
 
     def __init__(self, stewards, wanted):
-        self.found, seats = seated(stewards, wanted)
-        self.above = above_in_rows(stewards, seats, len(self.found))
+        found, seats = seated(stewards, wanted)
+        self.found = found
+        self.above = above_in_rows(stewards, seats, len(found))
         self.after = pairs_in_rows(seats)
 
 

@@ -302,8 +302,9 @@ class Limits(Case):
         self.same([self.at_once(stuck, book, []), self.at_once(why_none, book), self.at_once(some_panel, book),
                    is_stuck(book, [], names[:39])], [names, (None, names), None, False])
         chain = book.without_line(("off", [names[39]], names[0]))
-        self.same([self.at_once(row_with, chain, []), self.at_once(row_with, chain, [([names[0], names[39]], names[39])]),
-                   self.at_once(stuck, chain, [([names[0], names[39]], names[39])])], [names, None, names])
+        last = [([names[0], names[39]], names[39])]
+        self.same([self.at_once(row_with, chain, []), self.at_once(row_with, chain, last),
+                   self.at_once(stuck, chain, last)], [names, None, names])
 
 
 if __name__ == "__main__":

@@ -220,7 +220,8 @@ def calls_of_books():
     return [
         (Book, [["d", "b", "a", "c"], lines_of_book()]), (Book.with_line, [book(), ("off", ["d"], "b")]),
         (Book.without_line, [book(), ("off", ["a", "b"], "c")]), (Book.lines, [book()]), (Book.entries, [book()]),
-        (books.keeps, [book(), show()]), (books.why_broken, [book(), Panel(["a", "b", "c", "d"], [["c", "a", "b", "d"]])]),
+        (books.keeps, [book(), show()]),
+        (books.why_broken, [book(), Panel(["a", "b", "c", "d"], [["c", "a", "b", "d"]])]),
         (books.row_with, [book(), [(["a", "b"], "b")]]),
         (books.is_row_with, [book(), [(["a", "b"], "b")], ["b", "a", "c", "d"]]),
         (books.stuck, [stuck, [(["a", "b"], "b")]]), (books.is_stuck, [stuck, [(["a", "b"], "b")], ["a", "c"]]),

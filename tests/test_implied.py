@@ -13,7 +13,7 @@ from cardpanel.keepoffs import least_keepoffs
 from cardpanel.panels import Panel
 from cardpanel.several import plain_panel
 from support import (ABC, Case, all_panels, all_rows, big_book, big_names, big_panel, calls_about, odd_lines,
-                     odd_objects, offs_about, panel_keeps, some_lines, some_numbers, told_table)
+                     odd_objects, offs_about, panel_keeps, row_keeps, some_lines, some_numbers, told_table)
 
 LINES = calls_about(ABC) + offs_about(ABC)
 PANELS = all_panels(ABC, 6)
@@ -223,6 +223,41 @@ class Lean(Case):
         for value in odd_objects():
             for call in (needless_lines, lean_book, greatest_lots):
                 self.raises(InvalidBook, value, call, value)
+
+
+class RowByRow(Case):
+    """Books of four and five entries: some panel keeps one if rows that keep all keep-offs meet each call."""
+
+    def kept(self, rows, lines):
+        good = [row for row in rows if all(row_keeps(row, line) for line in lines if line[0] == "off")]
+        calls = [line for line in lines if line[0] == "call"]
+        return bool(good) and all(any(row_keeps(row, line) for row in good) for line in calls)
+
+    def told(self, rows, lines, line):
+        against = told_contrary(line)
+        return against is None or not self.kept(rows, lines + [against])
+
+    def test_drawn_books(self):
+        numbers = some_numbers(12)
+        for at in range(160):
+            entries = ["a", "b", "c", "d", "e"][:4 + at % 2]
+            rows = all_rows(entries)
+            book = Book(entries, some_lines(numbers, entries, at % 10))
+            lines, other = book.lines(), Book(entries, some_lines(numbers, entries, 3))
+            self.same(why_none(book) is None, self.kept(rows, lines))
+            for line in other.lines() + lines[:2]:
+                told = self.told(rows, lines, line)
+                self.same([follows(book, line), reasons(book, line)[0] == "follows"], [told, told])
+                self.same(is_reasons(book, line, reasons(book, line)), True)
+            without = {repr(line): [each for each in lines if each != line] for line in lines}
+            self.same(needless_lines(book), [line for line in lines if self.told(rows, without[repr(line)], line)])
+            left = lines
+            for line in reversed(lines):
+                rest = [each for each in left if each != line]
+                left = rest if self.told(rows, rest, line) else left
+            self.same(lean_book(book).lines(), left)
+            self.same(all_follow(book, other), all(self.told(rows, lines, line) for line in other.lines()))
+            self.same(all_follow(other, book), all(self.told(rows, other.lines(), line) for line in lines))
 
 
 class BooksOfPanels(Case):

@@ -459,7 +459,8 @@ class Parting(Case):
         one, other = facing(), LiveShow(Panel(OATS, [UP]))
         self.same(check_parting(value=[("leave", 1)], other=other, one=one), True)
         for value in odd_objects() + [(("leave", 1),), [["leave", 1]], [("leave", 1), ("leave", 1)], [("leave", True)],
-                                      [("leave",)], [("leave", 1, 1)], [("undo",)], [()], [("leave", [1])], ("leave", 1),
+                                      [("leave",)], [("leave", 1, 1)], [("undo",)], [()], [("leave", [1])],
+                                      ("leave", 1),
                                       [("put", ["oat"])], [("sit", tuple(UP))], [("put", "oat"), None], [None],
                                       [("leave", "1")], {0: ("leave", 1)}, [("take", "oat")], one]:
             self.same(check_parting(one, other, value), False)

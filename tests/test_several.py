@@ -51,7 +51,8 @@ class Document(Case):
     def test_second_examples(self):
         self.same(
             [is_plain(TRIO, [(2, TRIO)], Panel(TRIO, [["y", "z", "x"], ["x", "z", "y"]])),
-             is_plain(TRIO, [(2, TRIO)], Panel(TRIO, [TRIO])), alike_stewards(TRIO, [(2, TRIO)], [(2, ["y", "x", "z"])]),
+             is_plain(TRIO, [(2, TRIO)], Panel(TRIO, [TRIO])),
+             alike_stewards(TRIO, [(2, TRIO)], [(2, ["y", "x", "z"])]),
              parting_several(TRIO, [(1, TRIO)], [(2, TRIO)]) is None], [True, False, True, False])
         self.same(
             [one_steward(Panel(TRIO, [["x", "y", "z"], ["z", "y", "x"]])),

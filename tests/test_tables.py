@@ -155,7 +155,8 @@ def wrong_tables_of_five():
     for at in [0, 3, 4, 15, 17, 27, 28, 30]:
         field, given = table[at]
         for line in [(tuple(field), given), (field, tuple(given)), (field, given + ["jam"]), (field, []), ([], given),
-                     (field, given + given), (field[::-1], given) if len(field) > 1 else ([[name] for name in field], given),
+                     (field, given + given),
+                     (field[::-1], given) if len(field) > 1 else ([[name] for name in field], given),
                      (field, given[::-1]) if len(given) > 1 else (field, ["zz"]), (field, ["jam", "ale"]),
                      (field + ["A"], given), (field, ["A"]), (field, [None]), (field, None), (None, given),
                      (field, "".join(given)), (field, {name: 1 for name in given}), (field, [True]), (field, [given]),
@@ -180,7 +181,8 @@ class Five(Case):
                 for name in fields_of[4] if name not in cards[tuple(one)]]
         self.same([value for value in none if is_flaw(table, value)], [])
         found, pair_found = flaw(table), odd_fields(table)
-        self.same([found is None, pair_found is None, panel_for(table) is None], [flaws == [], flaws == [], flaws != []])
+        self.same([found is None, pair_found is None, panel_for(table) is None],
+                  [flaws == [], flaws == [], flaws != []])
         if flaws:
             self.assertTrue(found in flaws and pair_found in odd)
         else:

@@ -51,7 +51,8 @@ class Document(Case):
 
 class ThereAndBack(Case):
     def test_names(self):
-        for names in [[], ["a"], ["b", "a"], ["a", "a"], ["call", "off", "in", "by", "none", "abcdefgh"], big_names(40)]:
+        for names in [[], ["a"], ["b", "a"], ["a", "a"], ["call", "off", "in", "by", "none", "abcdefgh"],
+                      big_names(40)]:
             self.same([names_text(names), read_names(told_names(names))], [told_names(names), names])
 
     def test_panels(self):
@@ -128,24 +129,29 @@ class WrongTexts(Case):
                 self.raises(InvalidText, text, read, text)
 
     def test_wrong_texts(self):
-        common = ["a,b", "a ,b", "a,  b", "a, ", ", a", " a", "a ", "A", "a, B", "abcdefghi", "a;b", "a\n", "-, a", "--",
-                  "a, -", "a, a, ", "a1", "a\tb", " -", "- ", "\n", ",", "; ", ": "]
+        common = [
+            "a,b", "a ,b", "a,  b", "a, ", ", a", " a", "a ", "A", "a, B", "abcdefghi", "a;b", "a\n", "-, a", "--",
+            "a, -", "a, a, ", "a1", "a\tb", " -", "- ", "\n", ",", "; ", ": "]
         wrong = {
             read_names: ["a; b", "a: b"],
-            read_panel: ["-", "a; ", "; a", "a;a", "a, a", "a, b; a", "a, b; a, c", "a, b; a, b, c", "a, b; a, a", "a; -",
-                         "a, b;b, a", "a, b;  b, a", "a, b; b, a;", "a, b; b,a"],
-            read_line: ["a", "call", "call a", "call a in", "call a in ", "call a in -", "call a in b", "call a in b, a",
-                        "call a by a", "off a by a", "off a in b", "off a by -", "off a by", "off  a by b", "off a  by b",
-                        "off a by  b", "off a by b ", " off a by b", "Call a in a", "off a by b, b", "off a by c, b",
-                        "call a in a, a", "call A in A", "off - by b", "call a in a; call a in a", "off a by b c",
-                        "call in a", "off by b", "call a in a,b", "offa by b", "off a by b:", "call a  in a"],
-            read_book: ["-", "b, a", "a, a", "a; ", "a; a", "a;call a in a", "a; call b in b", "a, b; off b by a; call a in a",
-                        "a, b; call a in a; call a in a", "a, b; call a in a, b; call a in a", "a, b; call a in a; ",
-                        "; call a in a", "call a in a", "a, b; call a in b", "a, b; off a by b;", "a, b; off a by c",
-                        "-; call a in a", "a; -", "a, b;  off a by b", "a, b; off a by b ", "a, b; off b by b"],
-            read_rounds: ["a", "a:", "a: ", "a: -", "-: -", "-: a", "a:a", "a : a", "a:  a", "a: b", "b, a: a", "a, b: b, a",
-                          "a: a; ", "; a: a", "a: a;b: b", "a: a; -", "-; a: a", "a: a: a", "a, a: a", "a, b: a, a",
-                          "a: a ", " a: a", "a: a;  b: b", "a; a", "-; -"],
+            read_panel: [
+                "-", "a; ", "; a", "a;a", "a, a", "a, b; a", "a, b; a, c", "a, b; a, b, c", "a, b; a, a", "a; -",
+                "a, b;b, a", "a, b;  b, a", "a, b; b, a;", "a, b; b,a"],
+            read_line: [
+                "a", "call", "call a", "call a in", "call a in ", "call a in -", "call a in b", "call a in b, a",
+                "call a by a", "off a by a", "off a in b", "off a by -", "off a by", "off  a by b", "off a  by b",
+                "off a by  b", "off a by b ", " off a by b", "Call a in a", "off a by b, b", "off a by c, b",
+                "call a in a, a", "call A in A", "off - by b", "call a in a; call a in a", "off a by b c",
+                "call in a", "off by b", "call a in a,b", "offa by b", "off a by b:", "call a  in a"],
+            read_book: [
+                "-", "b, a", "a, a", "a; ", "a; a", "a;call a in a", "a; call b in b", "; call a in a",
+                "a, b; off b by a; call a in a", "a, b; call a in a; call a in a", "a, b; call a in a, b; call a in a",
+                "a, b; call a in a; ", "call a in a", "a, b; call a in b", "a, b; off a by b;", "a, b; off a by c",
+                "-; call a in a", "a; -", "a, b;  off a by b", "a, b; off a by b ", "a, b; off b by b"],
+            read_rounds: [
+                "a", "a:", "a: ", "a: -", "-: -", "-: a", "a:a", "a : a", "a:  a", "a: b", "b, a: a", "a, b: b, a",
+                "a: a; ", "; a: a", "a: a;b: b", "a: a; -", "-; a: a", "a: a: a", "a, a: a", "a, b: a, a",
+                "a: a ", " a: a", "a: a;  b: b", "a; a", "-; -"],
         }
         for read, texts in wrong.items():
             for text in common + texts:

@@ -62,7 +62,8 @@ class OnFields(Case):
                           [name for name in field if ways_in(panel, field, name) == [[]]],
                           show.attempt(lambda same: ([same.put(name) for name in field], same.cards())[1])]:
                 self.same(found, told)
-            self.same(play(show, [("try", [("put", name) for name in field] + [("cards",)])])[0][1][-1], ("cards", told))
+            script = [("put", name) for name in field] + [("cards",)]
+            self.same(play(show, [("try", script)])[0][1][-1], ("cards", told))
             self.same(can_be_cards(panel, field), told == field)
 
     def test_cards_of_all_fields(self):
