@@ -113,7 +113,7 @@ def first_open(rules, lines):
         else:
             if name not in sure:
                 sure[name] = sure_lots(rules, bit)
-            is_open = others != 0 and all([mask & others for _, mask in sure[name]])
+            is_open = all([mask & others for _, mask in sure[name]])
         if is_open:
             return line
     return None
@@ -170,7 +170,7 @@ def is_sure(rules, sure, staying, at):
     """Returns whether the call at a position follows from keep-offs and those calls whose positions stay."""
     others, bit = rules.calls[at]
     lots = [mask for place, mask in sure[bit] if place is None or place in staying and place != at]
-    return others == 0 or not all([mask & others for mask in lots])
+    return not all([mask & others for mask in lots])
 
 
 def sure_of_calls(rules):

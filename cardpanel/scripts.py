@@ -244,11 +244,8 @@ def same_cards_behind(panel, one, other):
 
 
 def copied(command):
-    """Returns a command with new lists."""
-    word, things = command[0], command[1:]
-    if word == "try":
-        return word, [copied(inner) for inner in things[0]]
-    return (word, list(things[0])) if word == "sit" else command
+    """Returns a command, no try, with a new row, if it has one."""
+    return ("sit", list(command[1])) if command[0] == "sit" else command
 
 
 def trimmed(panel, script):
@@ -259,4 +256,5 @@ def trimmed(panel, script):
         rest = [place for place in left if place != at]
         if alike_shows(end_of(panel, [script[place] for place in rest]), end):
             left = rest
+    # All is behind a try as ahead of it, so none is left.
     return [copied(script[place]) for place in left]

@@ -136,8 +136,8 @@ def said_of(rules, sure, field, name):
     others = mask_of(rules.bits, field) ^ bit
     if not can_be_called(rules, (others, bit)):
         return "none"
-    # Each other field needs somebody who is there ahead of the entry in all rows.
-    return "open" if all([lot & others for _, lot in sure]) and others != 0 else "card"
+    # It may also get none if, wherever it is sure that nobody but a lot is ahead of it, some of the lot can be there.
+    return "open" if all([lot & others for _, lot in sure]) else "card"
 
 
 def verdict(entries, rounds, field):

@@ -152,6 +152,15 @@ class AlikeStewards(Case):
                     self.assertIn(field, fields(ABC))
                     self.assertNotEqual(told_several(one, field), told_several(other, field))
 
+    def test_entries_in_any_order(self):
+        entries, one, other = ["d", "b", "a", "c"], [(1, ["d", "b", "a", "c"])], [(1, ["d", "b", "c", "a"])]
+        for names in [entries, sorted(entries)]:
+            field = parting_several(names, one, other)
+            self.assertIn(field, fields(entries))
+            self.assertNotEqual(told_several(one, field), told_several(other, field))
+            self.same([several_cards(names, one, ["a", "c"]), several_lots(names, one, "a"),
+                       plain_panel(names, one).rows()], [["a"], [["b", "d"]], [["d", "b", "a", "c"]]])
+
     def test_more_than_there_are_names_all(self):
         self.same([alike_stewards(ABC, [(3, ABC)], [(10 ** 20, ["c", "a", "b"])]),
                    alike_stewards(["a"], [(1, ["a"])], [(5, ["a"]), (1, ["a"])])], [True, True])

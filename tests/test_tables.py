@@ -162,6 +162,10 @@ def wrong_tables_of_five():
                      (field, "".join(given)), (field, {name: 1 for name in given}), (field, [True]), (field, [given]),
                      (field[:-1] + ["rye"], given), (field, [field[-1], field[0]])]:
             wrong.append(table[:at] + [line] + table[at + 1:])
+    for line in [(), (5, ["ale"]), (True, ["ale"]), ("abcde", ["a"]), ({"ale": 1}, ["ale"]), ((), []), (None, None)]:
+        wrong.append(table[:4] + [line] + table[5:])
+    for old, new in [("ale", "Ale"), ("jam", "jamjamjam"), ("jam", "jam1"), ("ale", "")]:
+        wrong.append([tuple([new if name == old else name for name in part] for part in line) for line in table])
     return wrong
 
 

@@ -104,6 +104,19 @@ class Fitting(Case):
                   [[[0, 1], [1, 2]], [], False])
         self.same(book_of_rounds(ABC, twice[::2]).lines(), [("call", ["a", "b"], "a"), ("off", ["a"], "b")])
 
+    def test_clashes_ascend_whatever_their_lengths(self):
+        ring = [(["a", "b"], ["a"]), (["b", "c"], ["b"]), (["a", "c"], ["c"])]
+        rounds = [ring[0], (["b", "d"], ["b"]), (["b", "d"], ["d"]), ring[1], ring[2]]
+        self.same(least_clashes(["a", "b", "c", "d"], rounds), [[0, 3, 4], [1, 2]])
+        self.same(least_clashes(["d", "c", "b", "a"], rounds[::-1]), [[0, 1, 4], [2, 3]])
+
+    def test_panels_of_other_entries_do_not_fit(self):
+        for panel in [Panel(["ale", "bun"], [["ale", "bun"]]), Panel(["x"], [["x"]]), Panel(
+                ["ale", "bun", "cob", "dip"], [["ale", "bun", "cob", "dip"]])]:
+            for rounds in [[], [(["ale", "bun"], ["ale"])]]:
+                self.same(is_fitting_panel(NAMES, rounds, panel), False)
+        self.same(is_fitting_panel(NAMES, [], Panel(NAMES, [NAMES])), True)
+
     def test_any_object(self):
         for value in odd_objects() + [[["ale", "bun", "cob"]], Panel(["ale", "bun"], [["ale", "bun"]]),
                                       (fitting_panel(NAMES, seen()),)]:
