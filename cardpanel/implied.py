@@ -187,7 +187,8 @@ def needless_lines(book):
         # What nothing keeps tells no more than without a line that goes just if nothing keeps it then, too.
         return [line for line in lines if not can_be_kept(Rules(rules.bits, without(lines, line)))]
     many, sure = len(rules.calls), sure_of_calls(rules)
-    calls = [line for at, line in enumerate(lines[:many]) if is_sure(rules, sure, range(many), at)]
+    staying = list(range(many))
+    calls = [line for at, line in enumerate(lines[:many]) if is_sure(rules, sure, staying, at)]
     return calls + [line for line in lines[many:] if follows_from_others(rules.bits, lines, line)]
 
 

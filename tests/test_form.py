@@ -19,6 +19,11 @@ CALLED = set("""append clear copy count endswith extend find get index insert is
 isupper items join keys ljust lower lstrip partition pop remove replace reverse rfind rjust rpartition rsplit rstrip
 setdefault split splitlines startswith strip update upper values zfill bit_length""".split())
 COMPREHENSIONS = (ast.ListComp, ast.SetComp, ast.DictComp)
+LAZY = {"range", "zip", "enumerate", "reversed", "combinations"}
+VIEWS = {"items", "keys", "values"}
+# These go over their first argument at once; what makes another such value has to be gone over at once itself.
+TAKERS = {"list", "tuple", "dict", "sorted", "sum", "any", "all", "bytes", "enumerate", "zip"}
+LAZY_CALLS = ["range(3)", "zip(xs, ys)", "enumerate(xs)", "reversed(xs)", "d.items()", "d.keys()", "d.values()"]
 BARRED = (
     ast.AsyncFunctionDef, ast.AsyncFor, ast.AsyncWith, ast.Await, ast.GeneratorExp, ast.Import, ast.Global, ast.Yield,
     ast.YieldFrom, ast.Div, ast.Starred, ast.Set,
@@ -61,6 +66,56 @@ def variables(comprehension):
     """The names that a comprehension gives something."""
     targets = [each.target for each in comprehension.generators]
     return {node.id for target in targets for node in ast.walk(target) if isinstance(node, ast.Name)} - {"_"}
+
+
+def called_name(node):
+    """The bare name that a node calls, None if it calls none."""
+    return node.func.id if isinstance(node, ast.Call) and isinstance(node.func, ast.Name) else None
+
+
+def lazy_kind(node):
+    """The name of what makes a value that is to be gone over at once, None for any other node."""
+    if isinstance(node, ast.Call) and isinstance(node.func, ast.Attribute) and node.func.attr in VIEWS:
+        return node.func.attr
+    return called_name(node) if called_name(node) in LAZY else None
+
+
+def goes_over(around, node):
+    """Whether what stands around a range, zip, enumerate, reversed, combinations or view goes over it at once."""
+    kind, name = lazy_kind(node), called_name(around)
+    if isinstance(around, (ast.For, ast.comprehension)):
+        return around.iter is node
+    if isinstance(around, ast.Compare):
+        return kind in ("range", "keys") and around.left is not node and isinstance(around.ops[0], (ast.In, ast.NotIn))
+    if name in ("min", "max"):
+        return around.args == [node] and all(each.arg == "default" for each in around.keywords)
+    if name == "len":
+        return kind in ("range", "items")
+    if name == "reversed":
+        return kind == "range"
+    if name == "combinations":
+        return kind in ("range", "zip", "items") and around.args[0] is node
+    if kind == "combinations" and name in ("dict", "bytes", "enumerate", "zip"):
+        return False
+    # What is gone over beside others, as in a second place of `zip`, is not what the rule allows.
+    return name in TAKERS and around.args[0] is node
+
+
+def names_lazy(node):
+    """Whether a node names what makes a value that is to be gone over at once."""
+    return isinstance(node, ast.Name) and node.id in LAZY or isinstance(node, ast.Attribute) and node.attr in VIEWS
+
+
+def not_gone_over(tree):
+    """The rows in which a range, zip, enumerate, reversed, combinations or view is not gone over at once."""
+    found = []
+    for around in ast.walk(tree):
+        for node in ast.iter_child_nodes(around):
+            if lazy_kind(node) is not None and not goes_over(around, node):
+                found.append(node.lineno)
+            if names_lazy(node) and not (isinstance(around, ast.Call) and around.func is node):
+                found.append(node.lineno)
+    return sorted(found)
 
 
 class Form(TestCase):
@@ -153,6 +208,40 @@ class Form(TestCase):
             around = [node for node in calls if isinstance(node.func, ast.Name) and node.func.id in ("sorted", "len")]
             for each in sets:
                 self.assertTrue(any(each in node.args for node in around), (name, each.lineno))
+
+    def test_ranges_zips_and_views_are_gone_over_at_once(self):
+        for name, tree in trees():
+            self.assertEqual(not_gone_over(tree), [], name)
+
+    def test_ranges_zips_and_views_that_would_be_found(self):
+        texts = (
+            "own({})", "own(1, {})", "own(xs={})", "own(*{})", "self.own({})", "Own({})", "xs.append({})", "own([{}])",
+            "own({} if xs else ys)", "own(xs or {})", "own(lambda: {})", "[x for x in xs if own({}, x)]",
+            "[own(x, {}) for x in xs]", "[x for x in own({})]", "kept = {}", "one, two = {}", "xs += {}", "[{}, 1]",
+            "{} == xs", "xs == {}", "{} in xs", "sorted(xs, key={})", "list(zip(xs, {}))", "max({}, key=own)",
+            "min({}, 1)", "def own():\n    return {}", "def own(xs={}):\n    pass",
+        )
+        for made in LAZY_CALLS + ["combinations(xs, 2)"]:
+            for text in texts:
+                self.assertEqual(len(not_gone_over(ast.parse(text.replace("{}", made)))), 1, (text, made))
+        for text in ("reversed(zip(xs, ys))", "reversed(enumerate(xs))", "reversed(d.items())",
+                     "enumerate(combinations(xs, 2))", "combinations(reversed(xs), 2)", "combinations(xs, range(2))"):
+            self.assertEqual(not_gone_over(ast.parse("list({})".format(text))), [1], text)
+        self.assertEqual(not_gone_over(ast.parse("xs = len(zip(xs, ys))\ny in zip(xs, ys)")), [1, 2])
+        self.assertEqual(not_gone_over(ast.parse("made = range\nown(zip)\nlook = d.items")), [1, 2, 3])
+
+    def test_ranges_zips_and_views_that_may_stand(self):
+        texts = (
+            "for x in {}:\n    pass", "[x for x in {}]", "[y for x in xs for y in {}]", "own(list({}))",
+            "own([x for x in {}])", "kept = list({})", "own(dict({}))", "sum({})", "min({})", "max({}, default=0)",
+            "[x for x in enumerate({})]", "[x for x in zip({}, xs)]",
+        )
+        for made in LAZY_CALLS:
+            for text in texts:
+                self.assertEqual(not_gone_over(ast.parse(text.replace("{}", made))), [], (text, made))
+        for text in ("x in range(3)", "x not in d.keys()", "len(range(3))", "len(d.items())",
+                     "list(reversed(range(3)))", "sorted(combinations(range(3), 2))"):
+            self.assertEqual(not_gone_over(ast.parse(text)), [], text)
 
     def test_methods_are_those_of_the_list_or_own_ones(self):
         own = {each.name for _, tree in trees() for each in functions_of(tree)}

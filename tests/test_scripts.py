@@ -194,7 +194,8 @@ class Texts(Case):
                  "exchange 1, 2", "undo ", "undo 1", "cards a", "table\n ", "try", "try\n", "try\nend\n", "try\n end",
                  "try\nundo\nend", "try\n undo\nend", "try\n   undo\nend", "try\n  undo", "try\n  undo\n  end", "end",
                  "try\n  try\n  end", "try\n  try\nend", "try \nend", "try a\nend", "try\nend ", "try\n  \nend",
-                 "  undo", "try\n\nend", "try\ntry\nend", "try\ntry\nend\nend", "try\n  undo\nend\nend", "leave " + "0" * 9, "try []", "done"]
+                 "  undo", "try\n\nend", "try\ntry\nend", "try\ntry\nend\nend", "try\n  undo\nend\nend",
+                 "leave " + "0" * 9, "try []", "done"]
         for text in wrong:
             self.raises(InvalidText, text, read_script, text)
 
